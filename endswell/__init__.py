@@ -1,0 +1,1 @@
+"""endswell: may a desk's book be exchanged, whoever it talks with?"""

@@ -1,0 +1,227 @@
+"""[2] and [3]: what holds for all functions, and great desks."""
+
+import inspect
+import unittest
+
+from endswell import desks, facing, talks
+from endswell.desks import Desk, changed, come_to, renamed, states_of, trimmed, turned
+from endswell.errors import DeskError
+from endswell.facing import are_ways_out, bad_talk, end_well, ended_place, ended_talk, ended_talks, farthest
+from endswell.facing import farthest_pairs, first_stuck, is_bad_talk, is_first_stuck, is_talk_to, is_way_out
+from endswell.facing import never_stuck, pair_behind, pairs_come, talk_to, way_out, ways_out
+from endswell.talks import is_longest_whole, is_shortest_whole, longest_whole, many_talks, many_whole, shortest_whole
+from endswell.talks import state_behind, whole_at, whole_place
+from tests.helpers import frozen, random_desk, random_two, seeds, shuffled_book, spoil
+from tests.test_interface import listed
+
+DONE = ("done", {})
+FUNCTIONS = [(getattr({"desks": desks, "talks": talks, "facing": facing}[module.split(".")[1]], name), arguments)
+             for module, name, arguments in listed()]
+BOOLEAN = ["end_well", "never_stuck", "is_whole"]
+
+
+def arguments_for(rng):
+    """Two desks, and things of all kinds that go with them, most of them right."""
+    one, other = random_two(rng)
+    words = [rng.choice(["no", "x", "yes"]) for _ in range(rng.randint(0, 3))]
+    state, goal = rng.choice(states_of(one)), rng.choice(states_of(one))
+    pairs = [(a, b) for a in states_of(one) for b in states_of(other)]
+    row = ("says", {"x": state, "no": "new"})
+    return {
+        "desk": one, "one": one, "other": other, "state": state, "talk": words, "size": rng.randint(0, 3), "number": 0,
+        "pair": rng.choice(pairs), "change": rng.choice([("put", "new", row), ("add", state, "other", goal)]),
+        "changes": [("put", "new", row), ("begin", "new"), ("drop", "new", "no")],
+        "names": {name: name + "z" for name in states_of(one)},
+        "value": rng.choice([words, (words, pairs), {pair: rng.randint(0, 2) for pair in pairs}, one.book(), "word"]),
+    }
+
+
+def outcome(function, values):
+    """What a call returns, or the error that it raises with its field."""
+    try:
+        return function(*values)
+    except DeskError as error:
+        return (error.__class__.__name__, error.value)
+
+
+class AllFunctions(unittest.TestCase):
+    def each(self, many):
+        for rng in seeds(many):
+            given = arguments_for(rng)
+            for function, arguments in FUNCTIONS:
+                yield rng, function, [given[argument] for argument in arguments]
+
+    def test_arguments_stay_as_they_were(self):
+        for _, function, values in self.each(60):
+            before = frozen(values)
+            outcome(function, values)
+            self.assertEqual(frozen(values), before, function)
+
+    def test_equal_calls_return_equal_results(self):
+        for rng, function, values in self.each(60):
+            first = frozen(outcome(function, values))
+            self.assertEqual(frozen(outcome(function, values)), first, function)
+            others = [self.anew(rng, value) for value in values]
+            if function.__name__ not in ("is_book", "is_word"):
+                given, again = outcome(function, values), outcome(function, others)
+                self.assertEqual(frozen(self.told(again)), frozen(self.told(given)), function)
+
+    def anew(self, rng, value):
+        """An equal object whose dictionaries stand in another order."""
+        if isinstance(value, Desk):
+            return Desk(shuffled_book(rng, value.book()), value.start())
+        if isinstance(value, dict):
+            return {key: value[key] for key in rng.sample(list(value), len(value))}
+        if isinstance(value, tuple) and value[:1] == ("put",):
+            return value[:2] + ((value[2][0], self.anew(rng, value[2][1])),)
+        return list(value) if isinstance(value, list) else value
+
+    def told(self, result):
+        """A result without the field of an error, which is the argument itself."""
+        wrong = isinstance(result, tuple) and str(result[0]).startswith("Invalid")
+        return result[0] if wrong else result
+
+    def test_results_are_new(self):
+        for _, function, values in self.each(60):
+            first = outcome(function, values)
+            if isinstance(first, tuple) and str(first[0]).startswith("Invalid"):
+                continue
+            before, held = frozen(first), frozen(values)
+            spoil(first.book() if isinstance(first, Desk) else first)
+            self.assertEqual(frozen(values), held, function)
+            self.assertEqual(frozen(outcome(function, values)), before, function)
+
+    def test_what_was_passed_may_change_later(self):
+        for rng in seeds(60):
+            given = arguments_for(rng)
+            results = [(outcome(function, [given[argument] for argument in arguments]), function)
+                       for function, arguments in FUNCTIONS]
+            results = [(result, frozen(result)) for result, _ in results
+                       if not isinstance(result, tuple) or not str(result[0]).startswith("Invalid")]
+            desk = frozen(given["desk"])
+            for thing in given.values():
+                spoil(thing)
+            self.assertEqual(frozen(given["desk"]), desk)
+            for result, before in results:
+                self.assertEqual(frozen(result), before)
+
+    def test_some_return_true_or_false(self):
+        for _, function, values in self.each(30):
+            name = function.__name__
+            if name.startswith(("is_", "are_")) or name in BOOLEAN:
+                self.assertIn(frozen(outcome(function, values)), ("True", "False"), function)
+
+    def test_none_is_never_such_a_thing(self):
+        for _, function, values in self.each(30):
+            if inspect.signature(function).parameters.get("value"):
+                self.assertIs(function(*values[:-1], None), False)
+
+
+class WhatIsReturnedIsPassedAgain(unittest.TestCase):
+    def test_with_one_thing_more_or_less(self):
+        for rng in seeds(60):
+            one, other = random_two(rng)
+            desk = random_desk(rng)
+            for make, judge, args in (
+                (shortest_whole, is_shortest_whole, (desk,)), (longest_whole, is_longest_whole, (desk,)),
+                (first_stuck, is_first_stuck, (one, other)),
+            ):
+                talk = make(*args)
+                if talk is not None:
+                    self.assertIs(judge(*args, talk), True)
+                    self.assertIs(judge(*args, talk + ["x"]), False)
+                    self.assertIs(judge(*args, talk[:-1]), talk == [])
+            ways = ways_out(one, other)
+            for pair in ways or {}:
+                self.assertIs(are_ways_out(one, other, ways), True)
+                self.assertIs(are_ways_out(one, other, {key: ways[key] for key in ways if key != pair}), False)
+                self.assertIs(are_ways_out(one, other, {**ways, ("zz", "zz"): 1}), False)
+
+
+LETTERS = "abcdefghijklmnopqrstuvwxyz"
+
+
+def name_of(number):
+    return LETTERS[number // 26 % 26] + LETTERS[number % 26]
+
+
+def ring(kind, many, leave=None):
+    """A desk of so many states that goes round by the word "on"; behind the state `leave` it ends by "off"."""
+    book = {name_of(at): (kind, {"on": name_of((at + 1) % many)}) for at in range(many)}
+    if leave is not None:
+        book[name_of(leave)] = (kind, {"on": name_of((leave + 1) % many), "off": "done"})
+        book["done"] = DONE
+    return Desk(book, name_of(0))
+
+
+class GreatDesks(unittest.TestCase):
+    def test_a_long_row(self):
+        many = 150
+        book = {name_of(at): ("says", {"on": name_of(at + 1)}) for at in range(many - 1)}
+        desk = Desk({**book, name_of(many - 1): DONE}, name_of(0))
+        talk = ["on"] * (many - 1)
+        self.assertEqual([shortest_whole(desk), longest_whole(desk)], [talk, talk])
+        self.assertIs(is_shortest_whole(desk, talk), True)
+        self.assertIs(is_longest_whole(desk, talk), True)
+        self.assertIs(is_longest_whole(desk, talk + ["on"]), False)
+        self.assertIs(is_longest_whole(desk, talk[1:]), False)
+        self.assertEqual([many_whole(desk, many - 1), many_talks(desk, 40), whole_place(desk, talk)], [1, 1, 0])
+        self.assertEqual(whole_at(desk, many - 1, 0), talk)
+        self.assertEqual(len(come_to(desk)), many)
+        self.assertEqual(end_well(desk, turned(desk)), True)
+        self.assertEqual(farthest(desk, turned(desk)), many - 1)
+        self.assertEqual(state_behind(desk, talk), name_of(many - 1))
+
+    def test_a_row_of_diamonds(self):
+        leaps = {"x": 1, "y": 1, "zz": 2}
+        book = {name_of(at): ("hears", {w: name_of(at + leap) for w, leap in leaps.items()}) for at in range(148)}
+        desk = Desk({**book, name_of(148): DONE, name_of(149): DONE}, name_of(0))
+        self.assertEqual(len(longest_whole(desk)), 148)
+        self.assertIs(is_longest_whole(desk, longest_whole(desk)), True)
+        self.assertEqual(shortest_whole(desk), ["zz"] * 74)
+        self.assertEqual([many_whole(desk, 73), many_whole(desk, 74), many_whole(desk, 75)], [0, 1, 11248])
+        self.assertEqual(many_whole(desk, 148), 2 ** 148 + 2 ** 147)
+
+    def test_two_great_rings(self):
+        one, other = ring("says", 149), ring("hears", 150)
+        self.assertEqual(len(pairs_come(one, other)), 149 * 150)
+        self.assertIs(never_stuck(one, other), True)
+        self.assertIs(end_well(one, other), False)
+        bad = bad_talk(one, other)
+        self.assertEqual((bad[0], len(bad[1])), ([], 149 * 150))
+        self.assertIs(is_bad_talk(one, other, bad), True)
+        self.assertIs(is_bad_talk(one, other, (bad[0], bad[1][1:])), False)
+        last = (name_of(148), name_of(149))
+        talk = talk_to(one, other, last)
+        self.assertEqual(talk, ["on"] * (149 * 150 - 1))
+        self.assertIs(is_talk_to(one, other, last, talk), True)
+        self.assertEqual(pair_behind(one, other, talk), last)
+
+    def test_a_way_out_of_two_great_rings(self):
+        one, other = ring("says", 147, 146), ring("hears", 149)
+        book = {s: (k, {**t, "off": "done"} if k == "hears" else t) for s, (k, t) in other.book().items()}
+        other = Desk({**book, "done": DONE}, other.start())
+        self.assertIs(end_well(one, other), True)
+        ways = ways_out(one, other)
+        self.assertEqual(len(ways), 147 * 149 + 1)
+        self.assertIs(are_ways_out(one, other, ways), True)
+        self.assertEqual(farthest(one, other), 147)
+        self.assertEqual(len(farthest_pairs(one, other)), 149)
+        first = (one.start(), other.start())
+        self.assertEqual(way_out(one, other, first), ["on"] * 146 + ["off"])
+        self.assertIs(is_way_out(one, other, first, ["on"] * 146 + ["off"]), True)
+        self.assertEqual([ended_talks(one, other, 40), ended_talks(one, other, 147)], [0, 1])
+        self.assertEqual(ended_talk(one, other, 147, 0), ["on"] * 146 + ["off"])
+        self.assertEqual(ended_place(one, other, ["on"] * 146 + ["off"]), 0)
+
+    def test_made_anew_of_the_book_and_the_start(self):
+        desk = ring("says", 150)
+        again = Desk(desk.book(), desk.start())
+        self.assertEqual(again, desk)
+        self.assertEqual(trimmed(again), desk)
+        names = {state: "x" + state for state in states_of(desk)}
+        self.assertEqual(renamed(again, names).start(), "xaa")
+        more = changed(again, ("put", "done", DONE))
+        more = changed(more, ("add", "aa", "off", "done"))
+        self.assertEqual(len(states_of(more)), 151)
+        self.assertEqual(shortest_whole(more), ["off"])
