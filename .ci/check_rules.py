@@ -82,7 +82,8 @@ class Checker:
         return node.level == 0 and all(alias.asname is None and alias.name in names for alias in node.names)
 
     def check_node(self, node):
-        # an operator has no line of its own, so it is looked at where it stands
+        if isinstance(node, ast.operator):
+            return  # it has no line of its own, so it is looked at where it stands
         part = node.op if isinstance(node, (ast.BinOp, ast.AugAssign)) else node
         if isinstance(node, ast.stmt) and not isinstance(node, STATEMENTS) or isinstance(part, REFUSED):
             self.tell(node, "L4-L7", f"{type(part).__name__} is not used here")
