@@ -1,7 +1,8 @@
 """Desks: words, books, and what is made of one desk."""
 
 from endswell.changes import after_change, change_fits, is_change
-from endswell.errors import InvalidBook, InvalidChange, InvalidChanges, InvalidDesk, InvalidNames, InvalidState
+from endswell.errors import InvalidBook, InvalidChange, InvalidChanges, InvalidDesk, InvalidDesks, InvalidNames
+from endswell.errors import InvalidState
 from endswell.forms import is_name, is_row, is_state_of
 from endswell.graphs import nodes_from
 
@@ -59,6 +60,12 @@ def need_desk(desk):
     """Raise InvalidDesk unless any object is a desk."""
     if not isinstance(desk, Desk):
         raise InvalidDesk(desk)
+
+
+def need_some_desks(desks):
+    """Raise InvalidDesks unless any object is a list of desks that is not empty."""
+    if not isinstance(desks, list) or len(desks) == 0 or not all([isinstance(desk, Desk) for desk in desks]):
+        raise InvalidDesks(desks)
 
 
 def book_with(desk, state):

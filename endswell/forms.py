@@ -22,6 +22,11 @@ def is_names(value):
     return isinstance(value, list) and all([is_name(word) for word in value])
 
 
+def is_ascending_names(value):
+    """Return whether any object is an ascending list of words."""
+    return is_names(value) and is_ascending(value)
+
+
 def is_row(value):
     """Return whether any object has the form of a row; its goals may be any words."""
     if not isinstance(value, tuple) or len(value) != 2:

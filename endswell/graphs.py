@@ -15,6 +15,23 @@ def node_behind(graph, start, way):
     return node
 
 
+def grown(onward, told, firsts):
+    """Return the graph of all nodes that come from the first ones; onward(told, node) tells where a node leads."""
+    graph = {}
+    found = {node: True for node in firsts}
+    layer = list(found)
+    while layer:
+        coming = []
+        for node in layer:
+            graph[node] = onward(told, node)
+            for goal in graph[node].values():
+                if goal not in found:
+                    found[goal] = True
+                    coming.append(goal)
+        layer = coming
+    return graph
+
+
 def nodes_from(graph, start):
     """Return the dictionary of True from all nodes to which some way leads."""
     found = {start: True}

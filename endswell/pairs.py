@@ -1,6 +1,7 @@
 """Pairs of states of two books that face one another; books is always a tuple of the two."""
 
 from endswell.forms import is_ascending, is_state_of
+from endswell.graphs import grown
 
 
 def is_pair_of(books, value):
@@ -48,20 +49,7 @@ def pair_after(books, pair, words):
 
 def links_from(books, pair):
     """Return the graph of all pairs that can be come to from a pair: from each one to its next pairs."""
-    links = {}
-    found = {pair: True}
-    layer = [pair]
-    while layer:
-        coming = []
-        for earlier in layer:
-            onward = next_of(books, earlier)
-            links[earlier] = onward
-            for later in onward.values():
-                if later not in found:
-                    found[later] = True
-                    coming.append(later)
-        layer = coming
-    return links
+    return grown(next_of, books, [pair])
 
 
 def ended_in(books, links):

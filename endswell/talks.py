@@ -23,6 +23,14 @@ def need_size(size):
         raise InvalidCount(size)
 
 
+def is_talk_as_short(graph, start, goals, shortest, value):
+    """Return whether any object is a talk of as many words as the shortest one, if any, and leads to a goal, too."""
+    if shortest is None or not is_talk(value) or len(value) != len(shortest):
+        return False
+    behind = node_behind(graph, start, value)
+    return behind is not None and behind in goals
+
+
 def done_states(desk):
     """Return the ascending list of the states that are done."""
     book = desk.book()

@@ -3,21 +3,31 @@
 import inspect
 import unittest
 
-from endswell import desks, facing, talks
+from endswell import desks, facing, orders, partners, stands, talks, viable
 from endswell.desks import Desk, changed, come_to, renamed, states_of, trimmed, turned
 from endswell.errors import DeskError
 from endswell.facing import are_ways_out, bad_talk, end_well, ended_place, ended_talk, ended_talks, farthest
 from endswell.facing import farthest_pairs, first_stuck, is_bad_talk, is_first_stuck, is_talk_to, is_way_out
 from endswell.facing import never_stuck, pair_behind, pairs_come, talk_to, way_out, ways_out
 from endswell.talks import is_longest_whole, is_shortest_whole, longest_whole, many_talks, many_whole, shortest_whole
+from endswell.orders import choice_ring, fooling_desk, going_on, is_choice_ring, is_fooling_desk, is_least_desk
+from endswell.orders import is_likeness, is_split, is_stand_in, least_desk, likeness, one_tells, split_of, stand_in
+from endswell.partners import fitted, is_joined_partner, is_most_willing, is_shy_partner, joined_partner, may_say
+from endswell.partners import most_willing, needed_words, shy_partner
+from endswell.stands import common_pairs, is_levels_table, is_losing_talk, is_lost_set, is_spoiler, least_levels
+from endswell.stands import losing_talk, lost_set, spoiler
 from endswell.talks import state_behind, whole_at, whole_place
+from endswell.viable import ending_talk, fewest_words, has_partner, is_ending_talk, is_level_paper, is_rank_paper
+from endswell.viable import level_paper, rank_paper, spoken_desk, viable_states
 from tests.helpers import frozen, random_desk, random_two, seeds, shuffled_book, spoil
+from tests.plain import lively, near
 from tests.test_interface import listed
 
 DONE = ("done", {})
-FUNCTIONS = [(getattr({"desks": desks, "talks": talks, "facing": facing}[module.split(".")[1]], name), arguments)
-             for module, name, arguments in listed()]
-BOOLEAN = ["end_well", "never_stuck", "is_whole"]
+MODULES = {module.__name__: module for module in (desks, talks, facing, viable, partners, stands, orders)}
+FUNCTIONS = [(getattr(MODULES[module], name), arguments) for module, name, arguments in listed()]
+BOOLEAN = ["end_well", "never_stuck", "is_whole", "has_partner", "have_common", "stands", "stands_within",
+           "same_partners", "one_tells"]
 
 
 def arguments_for(rng):
@@ -32,8 +42,23 @@ def arguments_for(rng):
         "pair": rng.choice(pairs), "change": rng.choice([("put", "new", row), ("add", state, "other", goal)]),
         "changes": [("put", "new", row), ("begin", "new"), ("drop", "new", "no")],
         "names": {name: name + "z" for name in states_of(one)},
-        "value": rng.choice([words, (words, pairs), {pair: rng.randint(0, 2) for pair in pairs}, one.book(), "word"]),
+        "value": rng.choice([words, (words, pairs), {pair: rng.randint(0, 2) for pair in pairs}, one.book(), "word",
+                             other,
+                             {name: rng.randint(0, 2) for name in states_of(one)}, (other, words), (words, words),
+                             pairs]),
+        "desks": [one, lively(rng), near(rng, one)][:rng.randint(1, 3)], "words": ["no", "yes"][rng.randint(0, 1):],
+        "elder": one, "newer": near(rng, one), "partner": other,
     }
+
+
+def values_for(function, arguments, given, rng):
+    """What a function is called with; the partners of a desk are such ones, if it has any."""
+    if function.__module__ != "endswell.partners":
+        return [given[argument] for argument in arguments]
+    desk = lively(rng)
+    some = [turned(desk)] + ([most_willing(desk), shy_partner(desk)] if has_partner(desk) else [])
+    of_desk = {**given, "desk": desk, "one": rng.choice(some), "other": rng.choice(some), "partner": some[-1]}
+    return [of_desk[argument] for argument in arguments]
 
 
 def outcome(function, values):
@@ -44,12 +69,17 @@ def outcome(function, values):
         return (error.__class__.__name__, error.value)
 
 
+def is_error(result):
+    """Whether an outcome is an error that was raised."""
+    return isinstance(result, tuple) and len(result) > 0 and str(result[0]).startswith(("Invalid", "Hopeless"))
+
+
 class AllFunctions(unittest.TestCase):
     def each(self, many):
         for rng in seeds(many):
             given = arguments_for(rng)
             for function, arguments in FUNCTIONS:
-                yield rng, function, [given[argument] for argument in arguments]
+                yield rng, function, values_for(function, arguments, given, rng)
 
     def test_arguments_stay_as_they_were(self):
         for _, function, values in self.each(60):
@@ -72,19 +102,20 @@ class AllFunctions(unittest.TestCase):
             return Desk(shuffled_book(rng, value.book()), value.start())
         if isinstance(value, dict):
             return {key: value[key] for key in rng.sample(list(value), len(value))}
+        if isinstance(value, list) and value and isinstance(value[0], Desk):
+            return [self.anew(rng, each) for each in value]
         if isinstance(value, tuple) and value[:1] == ("put",):
             return value[:2] + ((value[2][0], self.anew(rng, value[2][1])),)
         return list(value) if isinstance(value, list) else value
 
     def told(self, result):
         """A result without the field of an error, which is the argument itself."""
-        wrong = isinstance(result, tuple) and str(result[0]).startswith("Invalid")
-        return result[0] if wrong else result
+        return result[0] if is_error(result) else result
 
     def test_results_are_new(self):
         for _, function, values in self.each(60):
             first = outcome(function, values)
-            if isinstance(first, tuple) and str(first[0]).startswith("Invalid"):
+            if is_error(first):
                 continue
             before, held = frozen(first), frozen(values)
             spoil(first.book() if isinstance(first, Desk) else first)
@@ -94,10 +125,10 @@ class AllFunctions(unittest.TestCase):
     def test_what_was_passed_may_change_later(self):
         for rng in seeds(60):
             given = arguments_for(rng)
-            results = [(outcome(function, [given[argument] for argument in arguments]), function)
+            results = [(outcome(function, values_for(function, arguments, given, rng)), function)
                        for function, arguments in FUNCTIONS]
             results = [(result, frozen(result)) for result, _ in results
-                       if not isinstance(result, tuple) or not str(result[0]).startswith("Invalid")]
+                       if not is_error(result)]
             desk = frozen(given["desk"])
             for thing in given.values():
                 spoil(thing)
@@ -109,12 +140,14 @@ class AllFunctions(unittest.TestCase):
         for _, function, values in self.each(30):
             name = function.__name__
             if name.startswith(("is_", "are_")) or name in BOOLEAN:
-                self.assertIn(frozen(outcome(function, values)), ("True", "False"), function)
+                result = outcome(function, values)
+                self.assertTrue(is_error(result) or frozen(result) in ("True", "False"), function)
 
     def test_none_is_never_such_a_thing(self):
         for _, function, values in self.each(30):
             if inspect.signature(function).parameters.get("value"):
-                self.assertIs(function(*values[:-1], None), False)
+                result = outcome(function, values[:-1] + [None])
+                self.assertTrue(is_error(result) or result is False, function)
 
 
 class WhatIsReturnedIsPassedAgain(unittest.TestCase):
@@ -136,6 +169,25 @@ class WhatIsReturnedIsPassedAgain(unittest.TestCase):
                 self.assertIs(are_ways_out(one, other, ways), True)
                 self.assertIs(are_ways_out(one, other, {key: ways[key] for key in ways if key != pair}), False)
                 self.assertIs(are_ways_out(one, other, {**ways, ("zz", "zz"): 1}), False)
+
+    def test_papers_and_tables_with_one_thing_more_or_less(self):
+        for rng in seeds(60):
+            desk = lively(rng)
+            newer = near(rng, desk)
+            for given, judge, args in (
+                (rank_paper(desk, desk.start()), is_rank_paper, (desk, desk.start())),
+                (level_paper(desk, desk.start()), is_level_paper, (desk, desk.start())),
+                (least_levels(desk, newer), is_levels_table, (desk, newer)),
+                (lost_set(desk, newer), is_lost_set, (desk, newer)),
+            ):
+                if given is None:
+                    continue
+                self.assertIs(judge(*args, given), True)
+                for key in ("zz", ("zz", "zz"), None):
+                    self.assertIs(judge(*args, {**given, key: 1}), False)
+                for key in given:
+                    self.assertIs(judge(*args, {**given, key: True}), False)
+                    self.assertIn(judge(*args, {other: given[other] for other in given if other != key}), (True, False))
 
 
 LETTERS = "abcdefghijklmnopqrstuvwxyz"
@@ -225,3 +277,78 @@ class GreatDesks(unittest.TestCase):
         more = changed(more, ("add", "aa", "off", "done"))
         self.assertEqual(len(states_of(more)), 151)
         self.assertEqual(shortest_whole(more), ["off"])
+
+
+def exits(many, leaves, kind="says"):
+    """A ring of so many states that ends by "off" from some of them."""
+    book = {name_of(at): (kind, {"on": name_of((at + 1) % many)}) for at in range(many)}
+    for at in leaves:
+        book[name_of(at)][1]["off"] = "done"
+    return Desk({**book, "done": DONE}, name_of(0))
+
+
+def ladder(many):
+    """A desk of so many states that says and hears in turn, and goes back by many ways."""
+    book = {name_of(many - 1): DONE}
+    for at in range(many - 1):
+        turns = {"on": name_of(at + 1), "back": name_of(max(0, at - 1)), "home": name_of(0), "half": name_of(at // 2)}
+        book[name_of(at)] = ("hears" if at % 2 else "says", turns)
+    return Desk(book, name_of(0))
+
+
+class GreatDesksHeldAgainstOthers(unittest.TestCase):
+    def test_partners_of_a_great_desk(self):
+        desk = ladder(150)
+        self.assertEqual([len(viable_states(desk)), fewest_words(desk, "aa"), len(rank_paper(desk, "aa"))],
+                         [150, 149, 150])
+        self.assertIs(is_ending_talk(desk, "aa", ending_talk(desk, "aa")), True)
+        self.assertIs(is_rank_paper(desk, "aa", rank_paper(desk, "aa")), True)
+        willing, shy = most_willing(desk), shy_partner(desk)
+        self.assertEqual([is_most_willing(desk, one) for one in (willing, shy)], [True, False])
+        self.assertEqual([is_shy_partner(desk, one) for one in (willing, shy)], [False, True])
+        joined = joined_partner(desk, willing, shy)
+        self.assertIs(is_joined_partner(desk, willing, shy, joined), True)
+        self.assertIs(is_most_willing(desk, joined), True)
+        self.assertEqual([fitted(desk, willing), needed_words(desk)], [willing, ["on"]])
+        self.assertEqual(may_say(desk, ["on"]), ["back", "half", "home", "on"])
+        self.assertEqual(len(states_of(spoken_desk(desk))), 150)
+
+    def test_a_great_desk_that_is_not_viable(self):
+        book = {name_of(at): ("says", {"on": name_of(at + 1), "out": "done"}) for at in range(148)}
+        desk = Desk({**book, name_of(148): ("says", {"on": name_of(148)}), "done": DONE}, name_of(0))
+        paper = level_paper(desk, name_of(0))
+        self.assertEqual(max(paper.values()), 148)
+        self.assertIs(is_level_paper(desk, name_of(0), paper), True)
+        self.assertEqual(viable_states(desk), ["done"])
+
+    def test_great_rings_with_many_levels(self):
+        elder, newer = exits(147, range(147)), exits(149, [148])
+        levels = least_levels(elder, newer)
+        self.assertEqual([len(levels), max(levels.values()), len(common_pairs(elder, newer))],
+                         [147 * 149 + 1, 149, 147 * 149 + 1])
+        self.assertIs(is_levels_table(elder, newer, levels), True)
+        self.assertEqual(len(going_on(elder, newer, ["on"])), 149)
+        first = (elder.start(), newer.start())
+        self.assertIs(is_levels_table(elder, newer, {**levels, first: levels[first] - 1}), False)
+
+    def test_a_great_ring_that_is_never_left(self):
+        elder, newer = exits(147, [0, 50]), exits(149, [])
+        lost = lost_set(elder, newer)
+        self.assertEqual([len(lost), losing_talk(elder, newer)], [147 * 149, []])
+        self.assertIs(is_lost_set(elder, newer, lost), True)
+        self.assertIs(is_losing_talk(elder, newer, []), True)
+        given = spoiler(elder, newer)
+        self.assertIs(is_spoiler(elder, newer, given), True)
+
+    def test_the_order_of_great_desks(self):
+        desk = ladder(150)
+        ring, fooling = choice_ring(desk), fooling_desk(desk)
+        self.assertEqual([one_tells(desk), is_choice_ring(desk, ring), is_fooling_desk(desk, fooling)],
+                         [False, True, True])
+        self.assertIs(is_likeness(desk, desk, likeness(desk, desk)), True)
+        self.assertIs(is_least_desk(desk, least_desk(desk)), True)
+        self.assertIs(is_stand_in([desk, desk], stand_in([desk, desk])), True)
+        says = exits(149, range(0, 149, 2))
+        split = split_of(says)
+        self.assertEqual([len(split), is_split(says, split), one_tells(says)], [150, True, True])
+        self.assertEqual(len(states_of(least_desk(exits(148, range(0, 148, 2))))), 3)

@@ -22,13 +22,31 @@ ROWS = {
         is_bad_talk(one, other, value), first_stuck(one, other), is_first_stuck(one, other, value),
         never_stuck(one, other), ended_talks(one, other, size), ended_talk(one, other, size, number),
         ended_place(one, other, talk)""",
+    "endswell.viable": """common_partner(desks), ending_talk(desk, state), fewest_words(desk, state),
+        has_partner(desk), have_common(desks), is_common_partner(desks, value), is_ending_talk(desk, state, value),
+        is_level_paper(desk, state, value), is_rank_paper(desk, state, value), level_paper(desk, state),
+        rank_paper(desk, state), rescues(desk), sayable_words(desk, state), spoken_desk(desk), viable_states(desk)""",
+    "endswell.partners": """most_willing(desk), is_most_willing(desk, value), shy_partner(desk), is_shy_partner(desk,
+        value), partner_within(desk, words), is_partner_within(desk, words, value), least_words(desk),
+        needed_words(desk), may_say(desk, talk), joined_partner(desk, one, other), is_joined_partner(desk, one, other,
+        value), fitted(desk, partner)""",
+    "endswell.stands": """stands(elder, newer), stands_within(elder, newer, words), common_pairs(elder, newer),
+        missing_talk(elder, newer), is_missing_talk(elder, newer, value), levels_table(elder, newer),
+        is_levels_table(elder, newer, value), least_levels(elder, newer), lost_set(elder, newer), is_lost_set(elder,
+        newer, value), spoiler(elder, newer), is_spoiler(elder, newer, value), losing_talk(elder, newer),
+        is_losing_talk(elder, newer, value)""",
+    "endswell.orders": """standing_pairs(elder, newer), going_on(elder, newer, talk), order_between(one, other),
+        same_partners(one, other), parting_partner(one, other), is_parting_partner(one, other, value), likeness(one,
+        other), is_likeness(one, other, value), tester(desk), one_tells(desk), fooling_desk(desk),
+        is_fooling_desk(desk, value), choice_ring(desk), is_choice_ring(desk, value), split_of(desk), is_split(desk,
+        value), least_desk(desk), is_least_desk(desk, value), stand_in(desks), is_stand_in(desks, value)""",
 }
 
 
 def listed():
     """Tuples of a module, a name in it and the list of its arguments."""
     for module, row in ROWS.items():
-        for call in row.replace("\n", " ").split("),"):
+        for call in " ".join(row.split()).split("),"):
             name, arguments = call.strip().rstrip(")").split("(")
             yield module, name, arguments.split(", ")
 
@@ -42,7 +60,7 @@ class TheInterface(unittest.TestCase):
             self.assertEqual((function.__module__, function.__name__), (module, name))
             self.assertEqual(list(inspect.signature(function).parameters), arguments, name)
             many += 1
-        self.assertEqual(many, 13 + 13 + 21)
+        self.assertEqual(many, 13 + 13 + 21 + 15 + 12 + 14 + 20)
 
     def test_the_desk_defines_its_own_methods(self):
         self.assertEqual(Desk.__module__, "endswell.desks")
@@ -56,9 +74,13 @@ class TheInterface(unittest.TestCase):
             "desk": desk, "state": "s", "change": ("begin", "t"), "changes": [], "names": {"s": "a", "t": "b"},
             "talk": ["stop"], "size": 1, "number": 0, "one": desk, "pair": ("s", "p"), "value": ["stop"],
             "other": Desk({"p": ("hears", {"more": "p", "stop": "q"}), "q": ("done", {})}, "p"),
+            "desks": [desk], "words": ["stop"], "elder": desk, "newer": desk,
         }
+        valid["partner"] = valid["other"]
         for module, name, arguments in listed():
             function = getattr(importlib.import_module(module), name)
+            # here the one and the other are partners of a desk
+            valid["one"] = valid["other"] if module == "endswell.partners" else desk
             by_name = function(**{argument: valid[argument] for argument in reversed(arguments)})
             self.assertEqual(by_name, function(*[valid[argument] for argument in arguments]), name)
         self.assertEqual(Desk(start="t", book=desk.book()), Desk(desk.book(), "t"))

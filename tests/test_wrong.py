@@ -1,0 +1,123 @@
+"""Wrong arguments of sections 6 to 9: the first wrong one is told, with the very object."""
+
+import importlib
+import unittest
+
+from endswell.desks import Desk
+from endswell.errors import Hopeless, InvalidDesk, InvalidDesks, InvalidPartner, InvalidState, InvalidTalk, InvalidWords
+from tests.helpers import frozen, junk, loop, not_desks, not_states, not_talks
+from tests.plain import DONE
+from tests.test_interface import listed
+
+ERRORS = {
+    "desk": InvalidDesk, "elder": InvalidDesk, "newer": InvalidDesk, "one": InvalidDesk, "other": InvalidDesk,
+    "desks": InvalidDesks, "state": InvalidState, "words": InvalidWords, "talk": InvalidTalk, "partner": InvalidPartner,
+}
+NEVER = Desk({"s": ("says", {"more": "s"})}, "s")
+NEED_A_PARTNER = """spoken_desk most_willing is_most_willing shy_partner is_shy_partner least_words needed_words may_say
+    joined_partner is_joined_partner fitted tester one_tells fooling_desk is_fooling_desk choice_ring is_choice_ring
+    split_of is_split""".split()
+
+
+def friend():
+    return Desk({"p": ("hears", {"more": "p", "stop": "q"}), "q": DONE}, "p")
+
+
+def not_lists_of_desks():
+    wrong = [[], [loop(), None], (loop(),), (), [(loop(),)], [[loop()]], {"a": loop()}, [loop().book()], ["s"],
+             [loop(), 1], [NEVER, friend(), True], [None, loop()], loop()]
+    return junk() + wrong
+
+
+def not_words():
+    return not_talks() + [["b", "a"], ["a", "a"], ["a", "c", "b"], ["a", "b", "b"], ("a", "b"), {"a": 1, "b": 2}]
+
+
+def not_partners():
+    """No partners of the loop."""
+    return not_desks() + [loop(), NEVER, Desk({"z": DONE}, "z"), Desk({"p": ("hears", {"more": "p"})}, "p"),
+                          Desk({"p": ("hears", {"more": "p", "stop": "p"})}, "p"), [friend()], (friend(),)]
+
+
+def wrong_for(module, argument):
+    """The error for an argument, and objects that are wrong for it."""
+    if module == "endswell.partners" and argument in ("one", "other", "partner"):
+        return InvalidPartner, not_partners()
+    wrong = {InvalidDesk: not_desks, InvalidDesks: not_lists_of_desks, InvalidState: not_states,
+             InvalidWords: not_words,
+             InvalidTalk: not_talks}
+    return ERRORS[argument], wrong[ERRORS[argument]]()
+
+
+def right_for(module, argument):
+    if module == "endswell.partners" and argument in ("one", "other", "partner"):
+        return friend()
+    return {"desks": [loop(), loop()], "state": "s", "words": ["more", "stop"], "talk": ["stop"]}.get(argument, loop())
+
+
+def functions():
+    for module, name, arguments in listed():
+        if module in ("endswell.viable", "endswell.partners", "endswell.stands", "endswell.orders"):
+            yield module, getattr(importlib.import_module(module), name), arguments
+
+
+class WrongArguments(unittest.TestCase):
+    def check(self, error, value, function, arguments):
+        before = frozen(arguments)
+        with self.assertRaises(error) as caught:
+            function(*arguments)
+        self.assertIs(caught.exception.value, value, function)
+        self.assertIs(type(caught.exception), error)
+        self.assertEqual(frozen(arguments), before)
+
+    def test_the_first_wrong_one_is_told(self):
+        many = 0
+        for module, function, arguments in functions():
+            right = [right_for(module, argument) for argument in arguments]
+            function(*right)
+            for at, argument in enumerate(arguments):
+                if argument == "value":
+                    continue
+                error, wrong = wrong_for(module, argument)
+                for thing in wrong:
+                    many += 1
+                    self.check(error, thing, function, right[:at] + [thing] + right[at + 1:])
+                    self.check(error, thing, function, right[:at] + [thing] + [None] * (len(right) - at - 1))
+        self.assertGreater(many, 3000)
+
+    def test_hopeless_desks_come_ahead_of_what_follows(self):
+        told = []
+        for module, function, arguments in functions():
+            if arguments[0] == "desk" and function.__name__ in NEED_A_PARTNER:
+                told.append(function.__name__)
+                desk = Desk(NEVER.book(), "s")
+                right = [right_for(module, argument) for argument in arguments[1:]]
+                self.check(Hopeless, desk, function, [desk] + right)
+                self.check(Hopeless, desk, function, [desk] + [None] * len(right))
+        self.assertEqual(sorted(told), sorted(NEED_A_PARTNER))
+
+    def test_all_others_take_desks_without_a_partner(self):
+        for module, function, arguments in functions():
+            if function.__name__ not in NEED_A_PARTNER:
+                right = [right_for(module, argument) for argument in arguments]
+                hopeless = [[NEVER] if isinstance(thing, list) and isinstance(thing[0], Desk)
+                            else NEVER if isinstance(thing, Desk) else thing for thing in right]
+                hopeless = [["more"] if argument == "talk" else thing for argument, thing in zip(arguments, hopeless)]
+                function(*hopeless)
+
+    def test_a_talk_that_the_elder_desk_has_not(self):
+        going_on = importlib.import_module("endswell.orders").going_on
+        for talk in (["never"], ["stop", "stop"], ["more", "stop", "more"]):
+            self.check(InvalidTalk, talk, going_on, [loop(), friend(), talk])
+
+    def test_a_talk_that_no_partner_can_have_is_a_talk(self):
+        may_say = importlib.import_module("endswell.partners").may_say
+        self.assertIsNone(may_say(loop(), ["never"]))
+
+    def test_states_of_another_desk(self):
+        viable = importlib.import_module("endswell.viable")
+        for function in (viable.rank_paper, viable.level_paper, viable.sayable_words, viable.fewest_words,
+                         viable.ending_talk):
+            for state in ("p", "q", "stop"):
+                self.check(InvalidState, state, function, [loop(), state])
+                self.assertIsNotNone([function(loop(), each) for each in "st"])
