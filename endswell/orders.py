@@ -189,10 +189,11 @@ def is_least_desk(desk, value):
 def stand_in(desks):
     """Return a desk that stands for each of several, and for which all others that do so stand, None if none does."""
     need_some_desks(desks)
-    viable = [desk for desk in desks if has_partner(desk)]
-    if len(viable) == 0:
+    # great desks that go round may have many more positions together than what is least of them
+    least = [least_desk(desk) for desk in desks if has_partner(desk)]
+    if len(least) == 0:
         return endless_desk()
-    return stand_in_of([rows_alone(desk) for desk in viable], tuple([desk.start() for desk in viable]))
+    return stand_in_of([desk.book() for desk in least], tuple([desk.start() for desk in least]))
 
 
 def is_stand_in(desks, value):

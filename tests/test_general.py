@@ -352,3 +352,11 @@ class GreatDesksHeldAgainstOthers(unittest.TestCase):
         split = split_of(says)
         self.assertEqual([len(split), is_split(says, split), one_tells(says)], [150, True, True])
         self.assertEqual(len(states_of(least_desk(exits(148, range(0, 148, 2))))), 3)
+
+    def test_great_rings_of_unlike_sizes_have_a_small_stand_in(self):
+        desks = [exits(many, range(many)) for many in (149, 148, 147, 145)]
+        given = stand_in(desks)
+        self.assertLess(len(states_of(given)), 5)
+        self.assertIs(is_stand_in(desks, given), True)
+        self.assertIs(is_stand_in(desks, desks[0]), True)
+        self.assertIs(is_stand_in(desks, exits(149, [148])), False)
