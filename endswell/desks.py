@@ -68,6 +68,12 @@ def need_some_desks(desks):
         raise InvalidDesks(desks)
 
 
+def need_changes(changes):
+    """Raise InvalidChanges unless any object is a list of changes by their form."""
+    if not isinstance(changes, list) or not all([is_change(change) for change in changes]):
+        raise InvalidChanges(changes)
+
+
 def book_with(desk, state):
     """Return the book of a desk; raise InvalidDesk, or InvalidState unless the state is in it."""
     need_desk(desk)
@@ -119,8 +125,7 @@ def changed(desk, change):
 def changed_by(desk, changes):
     """Return the desk with a list of changes made, one after the other."""
     need_desk(desk)
-    if not isinstance(changes, list) or not all([is_change(change) for change in changes]):
-        raise InvalidChanges(changes)
+    need_changes(changes)
     made = desk
     for change in changes:
         made = with_change(made, change)

@@ -1,7 +1,7 @@
 """Who has a partner: viable states, papers that show it, sayable words, common partners, and rescues."""
 
 from endswell.desks import TURNED, Desk, book_with, need_desk, need_some_desks
-from endswell.drops import least_parts, said_in, without_said
+from endswell.drops import book_without, least_parts, words_at
 from endswell.errors import Hopeless
 from endswell.facing import end_well
 from endswell.forms import is_count, is_state_of
@@ -157,11 +157,11 @@ def rescues(desk):
     """Return the ascending list of the least lots of said words without which the desk has a partner."""
     need_desk(desk)
     book = desk.book()
-    return least_parts(said_in(book), rescues_without, (book, desk.start()))
+    return least_parts(words_at(book, "says"), rescues_without, (book, desk.start()))
 
 
 def rescues_without(told, lot):
     """Return whether a desk, told by its book and its start, has a partner without a lot, which is droppable."""
     book, start = told
-    left = without_said(book, lot)
+    left = book_without(book, "says", lot)
     return left is not None and start in viable_ranks(left)

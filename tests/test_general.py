@@ -3,7 +3,7 @@
 import inspect
 import unittest
 
-from endswell import desks, facing, orders, partners, stands, talks, viable
+from endswell import desks, facing, forcing, joining, lots, orders, partners, stands, stuckless, talks, viable
 from endswell.desks import Desk, changed, come_to, renamed, states_of, trimmed, turned
 from endswell.errors import DeskError
 from endswell.facing import are_ways_out, bad_talk, end_well, ended_place, ended_talk, ended_talks, farthest
@@ -24,10 +24,11 @@ from tests.plain import lively, near
 from tests.test_interface import listed
 
 DONE = ("done", {})
-MODULES = {module.__name__: module for module in (desks, talks, facing, viable, partners, stands, orders)}
+MODULES = {module.__name__: module for module in (desks, talks, facing, viable, partners, stands, orders, stuckless,
+                                                  lots, joining, forcing)}
 FUNCTIONS = [(getattr(MODULES[module], name), arguments) for module, name, arguments in listed()]
 BOOLEAN = ["end_well", "never_stuck", "is_whole", "has_partner", "have_common", "stands", "stands_within",
-           "same_partners", "one_tells"]
+           "same_partners", "one_tells", "stands_in", "forces", "leads_all", "ends_everywhere"]
 
 
 def arguments_for(rng):
@@ -47,15 +48,26 @@ def arguments_for(rng):
                              {name: rng.randint(0, 2) for name in states_of(one)}, (other, words), (words, words),
                              pairs]),
         "desks": [one, lively(rng), near(rng, one)][:rng.randint(1, 3)], "words": ["no", "yes"][rng.randint(0, 1):],
-        "elder": one, "newer": near(rng, one), "partner": other,
+        "elder": one, "newer": near(rng, one), "partner": other, "first": one, "second": other,
+        "arms": {"x": one, "no": other}, "again": "on", "enough": "off", "most_rounds": rng.randint(0, 2),
+        "frame": rng.choice([None, ("then", None, one), ("heard rounds", ("says", {"x": None, "no": one}), "on", "off"),
+                             ("hears", {"yes": ("said rounds", None, "x", "no"), "no": other})]),
+        "lot": [],
     }
 
 
 def values_for(function, arguments, given, rng):
     """What a function is called with; the partners of a desk are such ones, if it has any."""
+    desk = lively(rng)
+    if function.__module__ == "endswell.lots":
+        lot = [word for word in lots.said_words(desk) if rng.random() < 0.3]
+        changes = [("drop", "a", "x"), ("add", "a", "zz", "t"), ("begin", "t"), ("drop", "a", "y")]
+        of_desk = {"desk": desk, "lot": lot, "changes": changes, "value": rng.choice([lot, lots.heard_words(desk)[:1]])}
+        if function.__name__ == "lot_desk":
+            of_desk["lot"] = [at for at in range(4) if rng.random() < 0.5]
+        return [of_desk[argument] for argument in arguments]
     if function.__module__ != "endswell.partners":
         return [given[argument] for argument in arguments]
-    desk = lively(rng)
     some = [turned(desk)] + ([most_willing(desk), shy_partner(desk)] if has_partner(desk) else [])
     of_desk = {**given, "desk": desk, "one": rng.choice(some), "other": rng.choice(some), "partner": some[-1]}
     return [of_desk[argument] for argument in arguments]
@@ -104,8 +116,8 @@ class AllFunctions(unittest.TestCase):
             return {key: value[key] for key in rng.sample(list(value), len(value))}
         if isinstance(value, list) and value and isinstance(value[0], Desk):
             return [self.anew(rng, each) for each in value]
-        if isinstance(value, tuple) and value[:1] == ("put",):
-            return value[:2] + ((value[2][0], self.anew(rng, value[2][1])),)
+        if isinstance(value, tuple):
+            return tuple(self.anew(rng, each) for each in value)
         return list(value) if isinstance(value, list) else value
 
     def told(self, result):
@@ -145,7 +157,8 @@ class AllFunctions(unittest.TestCase):
 
     def test_none_is_never_such_a_thing(self):
         for _, function, values in self.each(30):
-            if inspect.signature(function).parameters.get("value"):
+            # but for the place of a frame, [73]
+            if inspect.signature(function).parameters.get("value") and function.__name__ != "is_frame":
                 result = outcome(function, values[:-1] + [None])
                 self.assertTrue(is_error(result) or result is False, function)
 

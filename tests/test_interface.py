@@ -40,6 +40,24 @@ ROWS = {
         other), is_likeness(one, other, value), tester(desk), one_tells(desk), fooling_desk(desk),
         is_fooling_desk(desk, value), choice_ring(desk), is_choice_ring(desk, value), split_of(desk), is_split(desk,
         value), least_desk(desk), is_least_desk(desk, value), stand_in(desks), is_stand_in(desks, value)""",
+    "endswell.stuckless": """is_safe(elder, newer), safe_pairs(elder, newer), is_safe_table(elder, newer, value), unfit_talk(elder,
+        newer), is_unfit_talk(elder, newer, value), sticking_desk(elder, newer), is_sticking_desk(elder, newer,
+        value), both_orders(elder, newer)""",
+    "endswell.lots": """said_words(desk), heard_words(desk), dropped(desk, lot), is_harmless(desk, value), harmless_lots(desk),
+        greatest_harmless(desk), least_harmful(desk), harmed_partner(desk, lot), is_harmed_partner(desk, lot,
+        value), must_say(desk), free_words(desk), said_again(desk, lot), live_states(desk), needed_heard(desk),
+        least_hearing(desk), is_spare(desk, value), lot_desk(desk, changes, lot), spoiling_lots(desk, changes),
+        standing_lots(desk, changes)""",
+    "endswell.joining": """then(first, second), said_choice(arms), heard_choice(arms), merged(first, second), said_rounds(desk, again,
+        enough), heard_rounds(desk, again, enough), limited_rounds(desk, again, enough, most_rounds),
+        is_frame(value), filled(frame, desk), stands_in(frame, elder, newer), is_keeping(frame),
+        breaking_pair(frame), is_breaking_pair(frame, value), waists(desk), cut_at(desk, state), are_alike(first,
+        second), parting_talk(first, second), is_parting_talk(first, second, value)""",
+    "endswell.forcing": """forced_pairs(one, other), forces(one, other), forcing_plan(one, other), is_forcing_plan(one, other, value),
+        holding_off(one, other), is_holding_off(one, other, value), who_ends(one, other), led_pairs(elder, newer),
+        leads_all(elder, newer), ends_everywhere(desk), ends_with_all(desk), ends_with_some(desk),
+        ending_partner(desk), is_ending_partner(desk, value), delaying_partner(desk), is_delaying_partner(desk,
+        value)""",
 }
 
 
@@ -60,7 +78,7 @@ class TheInterface(unittest.TestCase):
             self.assertEqual((function.__module__, function.__name__), (module, name))
             self.assertEqual(list(inspect.signature(function).parameters), arguments, name)
             many += 1
-        self.assertEqual(many, 13 + 13 + 21 + 15 + 12 + 14 + 20)
+        self.assertEqual(many, 13 + 13 + 21 + 15 + 12 + 14 + 20 + 8 + 19 + 18 + 16)
 
     def test_the_desk_defines_its_own_methods(self):
         self.assertEqual(Desk.__module__, "endswell.desks")
@@ -74,7 +92,8 @@ class TheInterface(unittest.TestCase):
             "desk": desk, "state": "s", "change": ("begin", "t"), "changes": [], "names": {"s": "a", "t": "b"},
             "talk": ["stop"], "size": 1, "number": 0, "one": desk, "pair": ("s", "p"), "value": ["stop"],
             "other": Desk({"p": ("hears", {"more": "p", "stop": "q"}), "q": ("done", {})}, "p"),
-            "desks": [desk], "words": ["stop"], "elder": desk, "newer": desk,
+            "desks": [desk], "words": ["stop"], "elder": desk, "newer": desk, "lot": [], "first": desk, "second": desk,
+            "arms": {"go": desk}, "again": "on", "enough": "off", "most_rounds": 1, "frame": None,
         }
         valid["partner"] = valid["other"]
         for module, name, arguments in listed():

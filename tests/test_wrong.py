@@ -1,17 +1,20 @@
-"""Wrong arguments of sections 6 to 9: the first wrong one is told, with the very object."""
+"""Wrong arguments of sections 6 to 13: the first wrong one is told, with the very object."""
 
 import importlib
 import unittest
 
 from endswell.desks import Desk
-from endswell.errors import Hopeless, InvalidDesk, InvalidDesks, InvalidPartner, InvalidState, InvalidTalk, InvalidWords
-from tests.helpers import frozen, junk, loop, not_desks, not_states, not_talks
+from endswell.errors import Hopeless, InvalidArms, InvalidChanges, InvalidCount, InvalidDesk, InvalidDesks, InvalidFrame
+from endswell.errors import InvalidLot, InvalidPartner, InvalidState, InvalidTalk, InvalidWord, InvalidWords
+from tests.helpers import frozen, junk, loop, not_counts, not_desks, not_states, not_talks
 from tests.plain import DONE
 from tests.test_interface import listed
 
 ERRORS = {
     "desk": InvalidDesk, "elder": InvalidDesk, "newer": InvalidDesk, "one": InvalidDesk, "other": InvalidDesk,
     "desks": InvalidDesks, "state": InvalidState, "words": InvalidWords, "talk": InvalidTalk, "partner": InvalidPartner,
+    "first": InvalidDesk, "second": InvalidDesk, "lot": InvalidLot, "changes": InvalidChanges, "arms": InvalidArms,
+    "frame": InvalidFrame, "again": InvalidWord, "enough": InvalidWord, "most_rounds": InvalidCount,
 }
 NEVER = Desk({"s": ("says", {"more": "s"})}, "s")
 NEED_A_PARTNER = """spoken_desk most_willing is_most_willing shy_partner is_shy_partner least_words needed_words may_say
@@ -39,25 +42,53 @@ def not_partners():
                           Desk({"p": ("hears", {"more": "p", "stop": "p"})}, "p"), [friend()], (friend(),)]
 
 
+def not_lots():
+    return [thing for thing in junk() if thing != []] + [
+        [("s", "never")], [["s", "stop"]], (("s", "stop"),), [("s", "stop"), ("s", "more")], [True], [7], (0,), [0, 0],
+        [("s", "more"), ("s", "more")], {("s", "stop"): 1}, [("s", True)], [(["s"], "more")], loop()]
+
+
+def not_changes():
+    return [thing for thing in junk() if thing != []] + [
+        ("begin", "t"), [("begin",)], [["begin", "t"]], (("begin", "t"),), [("begin", True)], {("begin", "t"): 1}, loop()]
+
+
+def not_arms():
+    return junk() + [{"x": None}, {"X": loop()}, {True: loop()}, [("x", loop())], {"x": [loop()]}, loop()]
+
+
+def not_frames():
+    return [thing for thing in junk() if thing is not None] + [
+        loop(), ("then", None, None), ["then", None, loop()], ("says", {}), ("says", {"x": None, "y": None}), (None,),
+        ("said rounds", None, "x", "x"), ("heard rounds", None, True, "x"), ("then", None, loop(), loop())]
+
+
+def not_one_word():
+    return [thing for thing in junk() if thing != "s"] + [["s"], ("s",), "S", loop()]
+
+
 def wrong_for(module, argument):
     """The error for an argument, and objects that are wrong for it."""
     if module == "endswell.partners" and argument in ("one", "other", "partner"):
         return InvalidPartner, not_partners()
     wrong = {InvalidDesk: not_desks, InvalidDesks: not_lists_of_desks, InvalidState: not_states,
-             InvalidWords: not_words,
-             InvalidTalk: not_talks}
+             InvalidWords: not_words, InvalidTalk: not_talks, InvalidLot: not_lots, InvalidChanges: not_changes,
+             InvalidArms: not_arms, InvalidFrame: not_frames, InvalidWord: not_one_word, InvalidCount: not_counts}
     return ERRORS[argument], wrong[ERRORS[argument]]()
 
 
 def right_for(module, argument):
     if module == "endswell.partners" and argument in ("one", "other", "partner"):
         return friend()
-    return {"desks": [loop(), loop()], "state": "s", "words": ["more", "stop"], "talk": ["stop"]}.get(argument, loop())
+    right = {"desks": [loop(), loop()], "state": "s", "words": ["more", "stop"], "talk": ["stop"], "lot": [],
+             "changes": [("begin", "t")], "arms": {"x": loop()}, "frame": None, "again": "on", "enough": "off",
+             "most_rounds": 2}
+    return right.get(argument, loop())
 
 
 def functions():
     for module, name, arguments in listed():
-        if module in ("endswell.viable", "endswell.partners", "endswell.stands", "endswell.orders"):
+        if module not in ("endswell.desks", "endswell.talks", "endswell.facing"):
             yield module, getattr(importlib.import_module(module), name), arguments
 
 
@@ -98,11 +129,12 @@ class WrongArguments(unittest.TestCase):
 
     def test_all_others_take_desks_without_a_partner(self):
         for module, function, arguments in functions():
-            if function.__name__ not in NEED_A_PARTNER:
+            # a desk that never ends has no waist at which it could be cut
+            if function.__name__ not in NEED_A_PARTNER + ["cut_at"]:
                 right = [right_for(module, argument) for argument in arguments]
-                hopeless = [[NEVER] if isinstance(thing, list) and isinstance(thing[0], Desk)
-                            else NEVER if isinstance(thing, Desk) else thing for thing in right]
-                hopeless = [["more"] if argument == "talk" else thing for argument, thing in zip(arguments, hopeless)]
+                hopeless = [NEVER if isinstance(thing, Desk) else thing for thing in right]
+                instead = {"talk": ["more"], "desks": [NEVER], "arms": {"x": NEVER}}
+                hopeless = [instead.get(argument, thing) for argument, thing in zip(arguments, hopeless)]
                 function(*hopeless)
 
     def test_a_talk_that_the_elder_desk_has_not(self):
