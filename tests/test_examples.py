@@ -5,7 +5,7 @@ import os
 import unittest
 
 FOLDER = os.path.join(os.path.dirname(os.path.abspath(__file__)), "examples")
-PRINTED = {3: 5, 4: 3, 5: 5, 6: 5, 7: 4, 8: 7, 9: 7, 10: 4, 11: 6, 12: 7, 13: 5}
+PRINTED = {3: 5, 4: 3, 5: 5, 6: 5, 7: 4, 8: 7, 9: 7, 10: 4, 11: 6, 12: 7, 13: 5, 14: 3, 15: 4, 16: 5, 17: 4}
 
 
 def block(section):

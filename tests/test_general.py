@@ -3,7 +3,8 @@
 import inspect
 import unittest
 
-from endswell import desks, facing, forcing, joining, lots, orders, partners, stands, stuckless, talks, viable
+from endswell import desks, facing, forcing, joining, lines, lots, orders, papers, partners, scripts, stands, stuckless
+from endswell import talks, viable
 from endswell.desks import Desk, changed, come_to, renamed, states_of, trimmed, turned
 from endswell.errors import DeskError
 from endswell.facing import are_ways_out, bad_talk, end_well, ended_place, ended_talk, ended_talks, farthest
@@ -25,10 +26,13 @@ from tests.test_interface import listed
 
 DONE = ("done", {})
 MODULES = {module.__name__: module for module in (desks, talks, facing, viable, partners, stands, orders, stuckless,
-                                                  lots, joining, forcing)}
-FUNCTIONS = [(getattr(MODULES[module], name), arguments) for module, name, arguments in listed()]
+                                                  lots, joining, forcing, lines, papers, scripts)}
+# what plays on halls is looked at in the tests of the hall and of scripts
+FUNCTIONS = [(getattr(MODULES[module], name), arguments) for module, name, arguments in listed()
+             if name not in ("play", "replayed")]
 BOOLEAN = ["end_well", "never_stuck", "is_whole", "has_partner", "have_common", "stands", "stands_within",
-           "same_partners", "one_tells", "stands_in", "forces", "leads_all", "ends_everywhere"]
+           "same_partners", "one_tells", "stands_in", "forces", "leads_all", "ends_everywhere",
+           "end_well_over"]
 
 
 def arguments_for(rng):
@@ -52,8 +56,26 @@ def arguments_for(rng):
         "arms": {"x": one, "no": other}, "again": "on", "enough": "off", "most_rounds": rng.randint(0, 2),
         "frame": rng.choice([None, ("then", None, one), ("heard rounds", ("says", {"x": None, "no": one}), "on", "off"),
                              ("hears", {"yes": ("said rounds", None, "x", "no"), "no": other})]),
-        "lot": [],
+        "lot": [], "most": rng.randint(1, 2), "scene": rng.choice(pairs) + (("x",), ()), "script": script_for(rng),
+        "deeds": rng.choice([[], [("one", "puts", "x"), ("other", "takes", "x")], [("one", "takes", "no")]]),
+        "levels": rng.choice([{"t": 1, "s": 2}, {("t", "s"): 0, ("s", "t"): 3}]),
     }
+
+
+def script_for(rng):
+    """A script with a try, and perhaps with what is refused."""
+    desk = lively(rng)
+    script = [("seat", desk, turned(desk)), ("go_on", 0, rng.choice("xy")), ("states", 0, near(rng, desk)), ("turn", 0)]
+    return script + [("try", [("words", 0), ("undo",)]), ("exchange", 0, near(rng, desk), "a"), ("ends", 0)]
+
+
+def text_for(name, rng):
+    """A text that a reader reads."""
+    desk = lively(rng)
+    return {"read_desk": papers.desk_text(desk), "read_desks": papers.desks_text([desk, near(rng, desk)]),
+            "read_change": rng.choice(["put u says x s y u", "out s", "add s x t"]), "read_talk": "x yes x",
+            "read_levels": rng.choice(["s = 0\nt = 2", "s t = 4"]),
+            "read_script": scripts.script_text(script_for(rng))}.get(name)
 
 
 def values_for(function, arguments, given, rng):
@@ -67,7 +89,8 @@ def values_for(function, arguments, given, rng):
             of_desk["lot"] = [at for at in range(4) if rng.random() < 0.5]
         return [of_desk[argument] for argument in arguments]
     if function.__module__ != "endswell.partners":
-        return [given[argument] for argument in arguments]
+        text = text_for(function.__name__, rng)
+        return [text if argument == "text" else given[argument] for argument in arguments]
     some = [turned(desk)] + ([most_willing(desk), shy_partner(desk)] if has_partner(desk) else [])
     of_desk = {**given, "desk": desk, "one": rng.choice(some), "other": rng.choice(some), "partner": some[-1]}
     return [of_desk[argument] for argument in arguments]

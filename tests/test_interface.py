@@ -5,6 +5,7 @@ import inspect
 import unittest
 
 from endswell.desks import Desk
+from endswell.hall import Hall
 from tests.helpers import loop
 
 ROWS = {
@@ -58,15 +59,34 @@ ROWS = {
         leads_all(elder, newer), ends_everywhere(desk), ends_with_all(desk), ends_with_some(desk),
         ending_partner(desk), is_ending_partner(desk, value), delaying_partner(desk), is_delaying_partner(desk,
         value)""",
+    "endswell.lines": """deeds_at(one, other, size, scene), scene_after(one, other, size, deeds), end_well_over(one, other, size),
+        lost_deeds(one, other, size), are_lost_deeds(one, other, size, value), deeds_out(one, other, size, scene),
+        are_deeds_out(one, other, size, scene, value), farthest_over(one, other, size), sizes_over(one, other,
+        most), most_waiting(one, other, size), plain_talk(one, other, deeds)""",
+    "endswell.scripts": """play(hall, script), script_text(script), read_script(text), end_of(script), shortened(script)""",
+    "endswell.papers": """desk_text(desk), read_desk(text), change_text(change), read_change(text), talk_text(talk), read_talk(text),
+        levels_text(levels), read_levels(text), desks_text(desks), read_desks(text)""",
+    "endswell.hall": """replayed(hall, log)""",
 }
+METHODS = """seat(own, guest), places(), own(place), guest(place), talk(place), pair(place), go_on(place, word),
+    words(place), is_ended(place), leave(place), exchange(place, newer, state), renew(place, newer),
+    renewable(place, newer), risk(place, newer, state), states_for(place, newer), safe_with(place, newer),
+    still_ends(place), still_ends_by(place, value), spoiler(place, newer, state), swap(place, other),
+    fits_with(place), turn(place), undo(), redo(), trial(), attempt(action), copy(), log()"""
+
+
+def calls_in(row):
+    """Tuples of a name and the list of its arguments."""
+    for call in " ".join(row.split()).split("),"):
+        name, arguments = call.strip().rstrip(")").split("(")
+        yield name, arguments.split(", ") if arguments else []
 
 
 def listed():
     """Tuples of a module, a name in it and the list of its arguments."""
     for module, row in ROWS.items():
-        for call in " ".join(row.split()).split("),"):
-            name, arguments = call.strip().rstrip(")").split("(")
-            yield module, name, arguments.split(", ")
+        for name, arguments in calls_in(row):
+            yield module, name, arguments
 
 
 class TheInterface(unittest.TestCase):
@@ -78,13 +98,41 @@ class TheInterface(unittest.TestCase):
             self.assertEqual((function.__module__, function.__name__), (module, name))
             self.assertEqual(list(inspect.signature(function).parameters), arguments, name)
             many += 1
-        self.assertEqual(many, 13 + 13 + 21 + 15 + 12 + 14 + 20 + 8 + 19 + 18 + 16)
+        self.assertEqual(many, 13 + 13 + 21 + 15 + 12 + 14 + 20 + 8 + 19 + 18 + 16 + 11 + 5 + 10 + 1)
 
     def test_the_desk_defines_its_own_methods(self):
         self.assertEqual(Desk.__module__, "endswell.desks")
         self.assertEqual(list(inspect.signature(Desk).parameters), ["book", "start"])
         for name in ("book", "start", "__eq__", "__init__"):
             self.assertIn(name, vars(Desk))
+
+    def test_the_hall_defines_its_own_methods(self):
+        self.assertEqual((Hall.__module__, list(inspect.signature(Hall).parameters)), ("endswell.hall", []))
+        methods = list(calls_in(METHODS))
+        for name, arguments in methods:
+            self.assertTrue(inspect.isfunction(vars(Hall)[name]), name)
+            self.assertEqual(list(inspect.signature(getattr(Hall(), name)).parameters), arguments, name)
+        self.assertEqual(len(methods), 28)
+
+    def test_methods_of_the_hall_may_be_passed_their_arguments_by_name(self):
+        desk, other = loop(), Desk({"p": ("hears", {"more": "p", "stop": "q"}), "q": ("done", {})}, "p")
+        hall = Hall()
+        hall.seat(guest=other, own=desk)
+        hall.seat(own=desk, guest=other)
+        self.assertEqual(hall.go_on(word="more", place=0), ("s", "p"))
+        self.assertEqual([hall.own(place=0), hall.guest(place=0), hall.talk(place=0), hall.pair(place=0)],
+                         [desk, other, ["more"], ("s", "p")])
+        self.assertEqual([hall.words(place=0), hall.is_ended(place=0), hall.still_ends(place=0)],
+                         [["more", "stop"], False, ["stop"]])
+        self.assertEqual([hall.exchange(state="s", newer=desk, place=0), hall.risk(newer=desk, place=0, state="s"),
+                          hall.renew(newer=desk, place=0), hall.renewable(newer=desk, place=0),
+                          hall.states_for(newer=desk, place=0), hall.safe_with(newer=desk, place=0)],
+                         [None, None, None, True, ["s"], ["s"]])
+        self.assertEqual([hall.still_ends_by(value=["stop"], place=0), hall.spoiler(state="s", newer=desk, place=0),
+                          hall.swap(other=1, place=0), hall.fits_with(place=0), hall.turn(place=1),
+                          hall.attempt(action=lambda same: same is hall)], [True, None, None, [1], None, True])
+        hall.go_on(0, "stop")
+        self.assertIsNone(hall.leave(place=0))
 
     def test_arguments_may_be_passed_by_name(self):
         desk = loop()
@@ -93,13 +141,18 @@ class TheInterface(unittest.TestCase):
             "talk": ["stop"], "size": 1, "number": 0, "one": desk, "pair": ("s", "p"), "value": ["stop"],
             "other": Desk({"p": ("hears", {"more": "p", "stop": "q"}), "q": ("done", {})}, "p"),
             "desks": [desk], "words": ["stop"], "elder": desk, "newer": desk, "lot": [], "first": desk, "second": desk,
-            "arms": {"go": desk}, "again": "on", "enough": "off", "most_rounds": 1, "frame": None,
+            "arms": {"go": desk}, "again": "on", "enough": "off", "most_rounds": 1, "frame": None, "log": [],
+            "most": 2, "scene": ("s", "p", (), ()), "deeds": [], "script": [("undo",)], "levels": {"s": 1},
         }
+        texts = {"read_desk": "start s\ns done", "read_change": "begin t", "read_talk": "stop", "read_levels": "s = 1",
+                 "read_desks": "", "read_script": "undo"}
         valid["partner"] = valid["other"]
         for module, name, arguments in listed():
             function = getattr(importlib.import_module(module), name)
+            valid["text"], valid["hall"] = texts.get(name), Hall()
             # here the one and the other are partners of a desk
             valid["one"] = valid["other"] if module == "endswell.partners" else desk
             by_name = function(**{argument: valid[argument] for argument in reversed(arguments)})
-            self.assertEqual(by_name, function(*[valid[argument] for argument in arguments]), name)
+            if name != "replayed":
+                self.assertEqual(by_name, function(*[valid[argument] for argument in arguments]), name)
         self.assertEqual(Desk(start="t", book=desk.book()), Desk(desk.book(), "t"))

@@ -88,7 +88,8 @@ def right_for(module, argument):
 
 def functions():
     for module, name, arguments in listed():
-        if module not in ("endswell.desks", "endswell.talks", "endswell.facing"):
+        # the tests of the other modules look at wrong arguments themselves
+        if module.split(".")[1] in ("viable", "partners", "stands", "orders", "stuckless", "lots", "joining", "forcing"):
             yield module, getattr(importlib.import_module(module), name), arguments
 
 
