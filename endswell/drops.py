@@ -8,16 +8,16 @@ def words_at(book, kind):
 
 def book_without(book, kind, lot):
     """Return the book without a lot of words at states of a kind, None if such a state would be left without any."""
-    left = {state: row_without(book[state], kind, state, lot) for state in book}
+    left = {state: row_without(book[state], state, lot) for state in book}
     if any([left[state][0] == kind and len(left[state][1]) == 0 for state in left]):
         return None
     return left
 
 
-def row_without(row, kind, state, lot):
-    """Return the row of a state without its words that are in a lot, if it is of a kind."""
-    own, turns = row
-    return own, {word: turns[word] for word in turns if own != kind or (state, word) not in lot}
+def row_without(row, state, lot):
+    """Return the row of a state without its words that are in a lot."""
+    kind, turns = row
+    return kind, {word: turns[word] for word in turns if (state, word) not in lot}
 
 
 def all_parts(items):

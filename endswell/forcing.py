@@ -5,7 +5,7 @@ from endswell.facing import books_of, end_well, first_pair
 from endswell.forms import is_ascending, is_name
 from endswell.graphs import grown, word_nearer
 from endswell.leading import led_words
-from endswell.pairs import ended_in, is_ended, is_pair_of, is_stuck, links_from, next_of
+from endswell.pairs import ended_in, is_pair_of, is_stuck, links_from, next_of
 from endswell.partners import most_willing, shy_row
 from endswell.stands import held_against
 from endswell.viable import has_partner, is_partner, spoken_desk
@@ -92,11 +92,10 @@ def is_holding_off(one, other, value):
 
 def is_held_off(books, links, listed, pair):
     """Return whether the one desk cannot leave what is listed at a pair, and the other one need not."""
-    if is_ended(books, pair):
-        return False
     if is_stuck(books, pair):
         return True
     staying = [later in listed for later in links[pair].values()]
+    # nobody speaks at an ended pair, and it has no next one that could be listed
     return all(staying) if speaks(books, pair) else any(staying)
 
 
@@ -181,7 +180,7 @@ def led_in(held):
 def leads_all(elder, newer):
     """Return whether all pairs of both desks are led; they are not if the elder one is not viable."""
     held = held_against(elder, newer)
-    return held.viable and len(led_in(held)) == len(held.links)
+    return len(led_in(held)) == len(held.links)
 
 
 def ends_everywhere(desk):

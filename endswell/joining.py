@@ -82,7 +82,7 @@ def limited_rounds(desk, again, enough, most_rounds):
 
 def pieces_in(value):
     """Return the list of what stands in the places of pieces, None if any object has not the form of such a tuple."""
-    if not isinstance(value, tuple) or len(value) == 0 or not isinstance(value[0], str):
+    if not isinstance(value, tuple) or len(value) == 0:
         return None
     word = value[0]
     if word == "then" and len(value) == 3:

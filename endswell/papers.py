@@ -31,7 +31,7 @@ def row_of_pieces(pieces):
 def desk_of_lines(lines):
     """Return the desk that has such lines, None if there is none; lines of no desk may be taken for some desk's."""
     rows = [line.split(" ") for line in lines]
-    if len(rows) == 0 or len(rows[0]) != 2 or not all([len(pieces) > 1 for pieces in rows]):
+    if len(rows) == 0 or not all([len(pieces) > 1 for pieces in rows]):
         return None
     book = {pieces[0]: row_of_pieces(pieces[1:]) for pieces in rows[1:]}
     start = rows[0][1]

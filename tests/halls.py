@@ -1,4 +1,4 @@
-"""A plain account of a hall: its commands are kept, and all else is told by going through them from the first one on."""
+"""A plain account of a hall: its commands are kept, and all else is told by going through them from the first on."""
 
 import random
 

@@ -107,6 +107,11 @@ def words_by_plan(plain, plan, pair):
 
 
 class Plans(unittest.TestCase):
+    def test_the_pairs_of_a_plan_are_ascending(self):
+        book = {"a": ("hears", {"x": "c", "y": "b"}), "b": ("says", {"x": "t"}), "c": ("says", {"y": "t"}), "t": DONE}
+        one = Desk(book, "a")
+        self.assertEqual(list(forcing_plan(one, turned(one)).items()), [(("b", "b"), "x"), (("c", "c"), "y")])
+
     def test_what_is_returned(self):
         told = [0, 0]
         for _, one, other, plain in facing(300):
@@ -354,7 +359,8 @@ class Led(unittest.TestCase):
         self.assertGreater(min(told), 50)
 
     def test_an_end_from_the_start_alone_is_not_passed_on(self):
-        desk = Desk({"s": ("says", {"stop": "t", "ask": "h"}), "h": ("hears", {"more": "h", "end": "t"}), "t": DONE}, "s")
+        desk = Desk({"s": ("says", {"stop": "t", "ask": "h"}), "h": ("hears", {"more": "h", "end": "t"}), "t": DONE},
+                    "s")
         newer = changed(desk, ("drop", "s", "stop"))
         self.assertEqual([ends_with_all(desk), ends_with_all(newer), stands(desk, newer), ends_everywhere(desk)],
                          [1, None, True, False])

@@ -10,6 +10,7 @@ from endswell.errors import DeskError
 from endswell.facing import are_ways_out, bad_talk, end_well, ended_place, ended_talk, ended_talks, farthest
 from endswell.facing import farthest_pairs, first_stuck, is_bad_talk, is_first_stuck, is_talk_to, is_way_out
 from endswell.facing import never_stuck, pair_behind, pairs_come, talk_to, way_out, ways_out
+from endswell.hall import Hall
 from endswell.talks import is_longest_whole, is_shortest_whole, longest_whole, many_talks, many_whole, shortest_whole
 from endswell.orders import choice_ring, fooling_desk, going_on, is_choice_ring, is_fooling_desk, is_least_desk
 from endswell.orders import is_likeness, is_split, is_stand_in, least_desk, likeness, one_tells, split_of, stand_in
@@ -101,7 +102,7 @@ def outcome(function, values):
     try:
         return function(*values)
     except DeskError as error:
-        return (error.__class__.__name__, error.value)
+        return (error.__class__.__name__, getattr(error, "value", None))
 
 
 def is_error(result):
@@ -170,6 +171,23 @@ class AllFunctions(unittest.TestCase):
             self.assertEqual(frozen(given["desk"]), desk)
             for result, before in results:
                 self.assertEqual(frozen(result), before)
+
+    def test_questions_in_other_orders_between_commands_on_halls(self):
+        for rng in seeds(25):
+            given = arguments_for(rng)
+            questions = [(function, values_for(function, arguments, given, rng)) for function, arguments in FUNCTIONS]
+            answers = [frozen(self.told(outcome(*question))) for question in questions]
+            hall, both = Hall(), list(zip(questions, answers))
+            rng.shuffle(both)
+            for (function, values), answer in both:
+                some = [value for value in values if isinstance(value, Desk)]
+                outcome(hall.seat, [lively(rng), turned(lively(rng))])
+                outcome(hall.seat, [some[0], turned(some[0])] if some else [None, None])
+                for place in hall.places()[-1:]:
+                    outcome(hall.go_on, [place, rng.choice(["no", "x", "yes"])])
+                    outcome(hall.exchange, [place, near(rng, some[0]), some[0].start()] if some else [place, None, None])
+                    outcome(rng.choice([hall.undo, hall.redo, hall.log]), [])
+                self.assertEqual(frozen(self.told(outcome(function, values))), answer, function)
 
     def test_some_return_true_or_false(self):
         for _, function, values in self.each(30):

@@ -123,7 +123,8 @@ class AgainstThePlainAccount(unittest.TestCase):
             self.assertEqual(moment(hall), before)
             self.blocks(rng, hall, plain, 2, 6)
             is_same(self, other, kept)
-        least = {("seat", "Refused"): 10, ("leave", None): 10, ("renew", None): 15, ("swap", None): 3, ("turn", None): 50,
+        least = {("seat", "Refused"): 10, ("leave", None): 10, ("renew", None): 15, ("swap", None): 3, ("turn",
+                                                                                                        None): 50,
                  ("exchange", None): 40, ("exchange", "Refused"): 40, ("exchange", "InvalidState"): 5,
                  ("risk", None): 40, ("risk", "Refused"): 20, ("risk", "InvalidState"): 5, ("renew", "Refused"): 40,
                  ("swap", "InvalidSpot"): 20, ("swap", "Refused"): 20, ("go_on", None): 200, ("go_on", "Refused"): 50,
@@ -188,7 +189,8 @@ class AgainstThePlainAccount(unittest.TestCase):
 class ByHand(unittest.TestCase):
     def test_the_numbers_of_places(self):
         hall = Hall()
-        self.assertEqual([hall.places(), hall.seat(LOOP, EAR), hall.seat(QUICK, EAR), hall.places()], [[], 0, 1, [0, 1]])
+        self.assertEqual([hall.places(), hall.seat(LOOP, EAR), hall.seat(QUICK, EAR), hall.places()], [[], 0, 1, [0,
+                                                                                                                  1]])
         hall.go_on(0, "stop")
         hall.leave(0)
         self.assertEqual([hall.places(), hall.seat(LOOP, EAR), hall.places()], [[1], 2, [1, 2]])
@@ -349,10 +351,12 @@ class Logs(unittest.TestCase):
     def test_wrong_logs(self):
         hall = Hall()
         hall.seat(LOOP, EAR)
-        wrong = [(("turn", 0),), [["turn", 0]], [("turn",)], [("turn", 0, 0)], [("seat", LOOP)], [("go_on", 0)], ("turn", 0),
+        wrong = [(("turn", 0),), [["turn", 0]], [("turn",)], [("turn", 0, 0)], [("seat", LOOP)], [("go_on", 0)],
+                 ("turn", 0),
                  [("exchange", 0, LOOP)], [("undo",)], [("redo",)], [("try", [])], [("words", 0)], [("ends", 0)],
                  [("states", 0, LOOP)], [("Turn", 0)], [()], [None], [("turn", 0), None], {("turn", 0): 1}, hall,
-                 [(1, 0)], [(["turn"], 0)], [({}, 0)], [(None,)], LOOP, "turn", [("turn", 0), ("never", 0)], [(True, 0)]]
+                 [(1, 0)], [(["turn"], 0)], [({}, 0)], [(None,)], LOOP, "turn", [("turn", 0), ("never", 0)], [(True,
+                                                                                                               0)]]
         for value in [thing for thing in junk() if thing != []] + wrong:
             with self.assertRaises(InvalidLog) as caught:
                 replayed(hall, value)
@@ -411,6 +415,9 @@ class WrongArguments(unittest.TestCase):
                 self.check(hall, InvalidSpot, value, method, value, QUICK, "s")
                 self.check(hall, InvalidSpot, value, method, value, None, None)
             self.check(hall, InvalidSpot, value, "swap", 0, value)
+        for place in (0, 1):
+            for method in one:
+                self.check(Hall(), InvalidSpot, place, method, place)
         spot = 1
         self.check(hall, InvalidSpot, spot, "swap", 1, spot)
 

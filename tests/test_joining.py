@@ -1,7 +1,7 @@
 """[70] to [77]: desks that are put together, held against how they go along all talks of some words.
 
 A way to go is a function from talks to tuples of a kind and the ascending list of the words, None where the talk
-does not lead: how a desk goes along talks is told so, and how things are put together is plainly told of such functions.
+does not lead: how a desk goes along talks is told so, and what is put together is plainly told of such functions.
 """
 
 import itertools
@@ -13,7 +13,8 @@ from endswell.joining import are_alike, breaking_pair, cut_at, filled, heard_cho
 from endswell.joining import is_frame, is_keeping, is_parting_talk, limited_rounds, merged, parting_talk, said_choice
 from endswell.joining import said_rounds, stands_in, then, waists
 from endswell.stands import least_levels, stands
-from tests.helpers import all_rows, frozen, junk, loop, not_counts, not_desks, not_talks, random_desk, seeds, walked, ways
+from tests.helpers import all_rows, frozen, junk, loop, not_counts, not_desks, not_talks, random_desk, seeds, walked
+from tests.helpers import ways
 from tests.plain import DONE, PlainHeld, closed, lively, near
 
 TWO = Desk({"s": ("says", {"blue": "t", "red": "t"}), "t": DONE}, "s")
@@ -199,7 +200,8 @@ class PutTogether(Goes):
                     chr(97 + (at + 1) % 26)}) for at in range(149)}, "ft": DONE}, "aa")
         self.assertEqual(len(states_of(row)), 150)
         self.assertEqual([len(come_to(desk)) for desk in (then(row, row), said_choice({"x": row}), merged(row, row),
-                                                          heard_rounds(row, "x", "y"), filled(("then", None, ASK), row))],
+                                                          heard_rounds(row, "x", "y"), filled(("then", None, ASK),
+                                                                                              row))],
                          [299, 151, 150, 151, 151])
         self.assertEqual(len(waists(row)), 150)
         self.assertEqual([len(states_of(part)) for part in cut_at(row, "ca")], [53, 150])
@@ -274,7 +276,8 @@ class Frames(Goes):
         self.assertEqual(filled(None, loop()), loop())
 
     def test_is_frame(self):
-        right = [None, ("then", None, RED), ("then", RED, None), ("says", {"x": None}), ("hears", {"x": RED, "y": None}),
+        right = [None, ("then", None, RED), ("then", RED, None), ("says", {"x": None}), ("hears", {"x": RED,
+                                                                                                   "y": None}),
                  ("said rounds", None, "x", "y"), ("heard rounds", ("then", ASK, ("says", {"x": None})), "x", "y")]
         wrong = [RED, ("then", RED, RED), ("then", None, None), ("then", None), ("then", None, RED, RED), ("then",), (),
                  ("says", {}), ("says", {"x": None, "y": None}), ("says", {"X": None}), ("says", {1: None, "x": RED}),
@@ -284,12 +287,16 @@ class Frames(Goes):
                  ("never", None), ("done", {}), (None,), (None, None), ("then", None, "s"), ("then", None, RED.book()),
                  ("then", None, ("then", RED, None)), ("says", {"x": None, "y": 1}), ("says", {"x": [None]}),
                  ("then", (), None), (1, None), (["then"], None, RED), ("said_rounds", None, "x", "y"), {"then": None},
-                 ("says", {"x": ("hears", {})}), ("limited rounds", None, "x", "y", 1), ("Then", None, RED)]
+                 ("says", {"x": ("hears", {})}), ("never", {"x": None}), ("then", None, ("then", "s", RED)),
+                 ("then", None, ("says", {"x": 1})), ("hears", {"x": None, "y": ("then", None)}), ("limited rounds",
+                                                                                                   None, "x", "y", 1),
+                                                                                                   ("Then", None, RED)]
         for frame in right:
             self.assertIs(is_frame(frame), True)
         for value in [thing for thing in junk() if thing is not None] + wrong:
             self.assertIs(is_frame(value), False, value)
-            for function, more in ((filled, [RED]), (filled, [None]), (stands_in, [RED, RED]), (stands_in, [None, None]),
+            for function, more in ((filled, [RED]), (filled, [None]), (stands_in, [RED, RED]), (stands_in, [None,
+                                                                                                            None]),
                                    (is_keeping, []), (breaking_pair, []), (is_breaking_pair, [(TWO, RED)])):
                 with self.assertRaises(InvalidFrame) as caught:
                     function(value, *more)
@@ -304,11 +311,12 @@ class Frames(Goes):
 
     def test_wrong_desks(self):
         for value in not_desks():
-            for function, arguments in ((filled, [None, value]), (stands_in, [None, value, None]),
-                                        (stands_in, [None, RED, value])):
-                with self.assertRaises(InvalidDesk) as caught:
-                    function(*arguments)
-                self.assertIs(caught.exception.value, value)
+            for frame in (None, ("says", {"x": None}), ("then", ASK, None), ("heard rounds", None, "on", "off")):
+                for function, arguments in ((filled, [frame, value]), (stands_in, [frame, value, None]),
+                                            (stands_in, [frame, RED, value])):
+                    with self.assertRaises(InvalidDesk) as caught:
+                        function(*arguments)
+                    self.assertIs(caught.exception.value, value)
 
 
 class Order(unittest.TestCase):
@@ -361,7 +369,8 @@ class Order(unittest.TestCase):
     def test_wrong_pairs(self):
         frame = ("heard rounds", None, "on", "off")
         self.assertIs(is_breaking_pair(frame, (TWO, RED)), True)
-        wrong = [[TWO, RED], (RED, TWO), (TWO,), (TWO, RED, RED), (TWO, TWO), (TWO, None), (None, RED), {TWO.start(): RED},
+        wrong = [[TWO, RED], (RED, TWO), (TWO,), (TWO, RED, RED), (TWO, TWO), (TWO, None), (None, RED),
+                 {TWO.start(): RED},
                  (TWO, ASK), ((TWO, RED),), TWO, (TWO.book(), RED.book()), ([TWO], [RED])]
         for value in junk() + wrong:
             self.assertIs(is_breaking_pair(frame, value), False, value)

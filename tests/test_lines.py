@@ -253,7 +253,8 @@ class PlainTalks(unittest.TestCase):
                 deeds = random_deeds(rng, plain)
                 taken = {who: [word for own, does, word in deeds if (own, does) == (who, "takes")]
                          for who in ("one", "other")}
-                right = [talk for talk in all_rows("xy", 6) if self.says(facing, talk) == (taken["other"], taken["one"])]
+                right = [talk for talk in all_rows("xy", 6) if self.says(facing, talk) == (taken["other"],
+                                                                                           taken["one"])]
                 if sum(map(len, taken.values())) > 6:
                     continue
                 self.assertLess(len(right), 2)
@@ -281,7 +282,8 @@ class PlainTalks(unittest.TestCase):
                 for _ in range(3):
                     many += 1
                     deeds = random_deeds(rng, plain, 12)
-                    self.assertEqual(plain_talk(one, other, deeds), [word for _, does, word in deeds if does == "takes"])
+                    self.assertEqual(plain_talk(one, other, deeds), [word for _, does,
+                                                                     word in deeds if does == "takes"])
         self.assertGreater(many, 150)
 
     def test_over_lines_with_room_for_all(self):

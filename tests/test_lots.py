@@ -86,7 +86,8 @@ class SaidAndHeard(unittest.TestCase):
 
 
 NOT_LOTS = [
-    [("s", "never")], [("t", "stop")], [("zz", "stop")], [["s", "stop"]], (("s", "stop"),), [("s", "stop"), ("s", "more")],
+    [("s", "never")], [("t", "stop")], [("zz", "stop")], [["s", "stop"]], (("s", "stop"),), [("s", "stop"), ("s",
+                                                                                                             "more")],
     [("s", "more"), ("s", "more")], [("s", "more"), ("s", "stop")], {("s", "stop"): 1}, [("s",)], [("s", "more", "s")],
     [("s", True)], [("s", None)], [("s", ["more"])], [(["s"], "more")], [("s", {})], [({}, "more")], "s", ["s"],
     [("s", "more"), None], [("s", "more"), 1], [(("s", "more"),)], [[("s", "more")]], loop(), [loop()], [("s", loop())],
@@ -278,7 +279,8 @@ class LotsOfChanges(unittest.TestCase):
         changes = [("lead", "s", "stop", "z"), ("put", "z", ("hears", {"x": "t"}))]
         self.assertEqual([lot_desk(loop(), changes, [0]), lot_desk(loop(), changes, [0, 1])], [None, None])
         self.assertEqual(lot_desk(loop(), changes[::-1], [0, 1]).book()["s"][1]["stop"], "z")
-        self.assertEqual([spoiling_lots(loop(), changes[::-1]), standing_lots(loop(), changes[::-1])], [[[0, 1]], [[0]]])
+        self.assertEqual([spoiling_lots(loop(), changes[::-1]), standing_lots(loop(), changes[::-1])], [[[0, 1]],
+                                                                                                        [[0]]])
 
     def test_no_changes(self):
         self.assertEqual([lot_desk(loop(), [], []), spoiling_lots(loop(), []), standing_lots(loop(), [])],

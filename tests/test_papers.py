@@ -59,7 +59,8 @@ class Writers(unittest.TestCase):
                          ["", "more", "more stop more"])
 
     def test_levels(self):
-        self.assertEqual([levels_text({}), levels_text({"t": 10, "s": 0}), levels_text({("t", "s"): 1, ("s", "t"): 22})],
+        self.assertEqual([levels_text({}), levels_text({"t": 10, "s": 0}), levels_text({("t", "s"): 1, ("s",
+                                                                                                        "t"): 22})],
                          ["", "s = 0\nt = 10", "s t = 22\nt s = 1"])
         for rng in seeds(100):
             levels = random_levels(rng)
@@ -106,12 +107,16 @@ class Readers(unittest.TestCase):
         wrong = {
             read_desk: ["", "start a", "a done", "start a\na done\n", "start b\na done", "start a\na done\na done",
                         "start a\na done x a", "start a\na says", "start a\na says x", "start a\na says x b",
-                        "start a\na says x a x a", "start a\na says y a x a", "start a\nb done\na done", "begin a\na done",
+                        "start a\na says x a x a", "start a\na says y a x a", "start a\nb done\na done",
+                        "begin a\na done",
                         "start a a\na done", "start  a\na done", " start a\na done", "start a\n\na done", "start a\na",
-                        "start a\na Done", "start A\nA done", "start a\n1 done\na done", "start\na done", "\nstart a\na done",
-                        "start a\r\na done", "start a\na done ", "start a\na hears abcdefghi a", desks_text([END, END])],
+                        "start a\na Done", "start A\nA done", "start a\n1 done\na done", "start\na done",
+                        "\nstart a\na done",
+                        "start a\r\na done", "start a\na done ", "start a\na hears abcdefghi a", desks_text([END,
+                                                                                                             END])],
             read_change: ["", "add s x", "add s x t u", "drop s", "put", "put u", "put u done x u", "put u says",
-                          "put u says x", "put u hears y s x s", "put u hears x s x s", "out", "out s t", "begin", "begin S",
+                          "put u says x", "put u hears y s x s", "put u hears x s x s", "out", "out s t", "begin",
+                          "begin S",
                           "never s", "out  s", "out s ", " out s", "out s\n", "lead s x 1", "put u nods x s",
                           "put u says abcdefghi s", "add\ts x t"],
             read_talk: [" ", "more ", " more", "more  stop", "More", "more\nstop", "abcdefghi", "1", "more,stop", "\n"],
@@ -120,7 +125,8 @@ class Readers(unittest.TestCase):
                           "s = x", "S = 1", "s == 1", "s = 0x1", "s = 1.0", "\n", "s = ", "s = 00", "s t = True",
                           "s - 1", "s = " + "9" * 5000 + "x", "s = " + "9" * 5000 + " "],
             read_desks: ["start a\na done\n", "start a\na done\n\n", "\n\nstart a\na done", "\n", "\n\n",
-                         "start a\na done\nstart a\na done", "start a\na done\n\n\nstart a\na done", "start a\n\na done",
+                         "start a\na done\nstart a\na done", "start a\na done\n\n\nstart a\na done",
+                         "start a\n\na done",
                          "start a\na done\n\nstart b\na done"],
         }
         for read, texts in wrong.items():
@@ -159,11 +165,13 @@ class WrongThings(unittest.TestCase):
 
     def test_desks(self):
         self.check(InvalidDesk, not_desks(), desk_text)
-        wrong = [(loop(),), [loop(), None], [[loop()]], [loop().book()], {"a": loop()}, [True], loop(), [(loop(),)], ["s"]]
+        wrong = [(loop(),), [loop(), None], [[loop()]], [loop().book()], {"a": loop()}, [True], loop(), [(loop(),)],
+                 ["s"]]
         self.check(InvalidDesks, [thing for thing in junk() if thing != []] + wrong, desks_text)
 
     def test_changes(self):
-        wrong = [["out", "s"], ("out",), ("out", "s", "t"), ("out", "S"), ("out", 1), ("out", True), ("put", "u", "done"),
+        wrong = [["out", "s"], ("out",), ("out", "s", "t"), ("out", "S"), ("out", 1), ("out", True), ("put", "u",
+                                                                                                      "done"),
                  ("put", "u", ("done", {"x": "u"})), ("put", "u", ("says", {})), ("put", "u", ["done", {}]),
                  ("put", "u", ("done", [])), ("put", "u", ("says", {"x": 1})), ("never", "s"), "out s", ("out", ["s"]),
                  ("add", "s", "x"), ("drop", "s", "x", "t"), (["out"], "s"), loop(), {"out": "s"}, (None, "s")]

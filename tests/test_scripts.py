@@ -103,7 +103,8 @@ class Played(unittest.TestCase):
         hall = Hall()
         hall.seat(LOOP, EAR)
         self.assertEqual(play(hall, [("go_on", 0, "more"), ("try", [("undo",), ("undo",), ("undo",)]), ("undo",)]),
-                         [("pair", ("s", "p")), ("tried", [("done",), ("done",), ("refused", "NothingToUndo")]), ("done",)])
+                         [("pair", ("s", "p")), ("tried", [("done",), ("done",), ("refused", "NothingToUndo")]),
+                          ("done",)])
         self.assertEqual([hall.talk(0), len(hall.log())], [[], 1])
         self.assertEqual([play(hall, []), play(hall, [("redo",), ("redo",)])],
                          [[], [("done",), ("refused", "NothingToRedo")]])
@@ -121,7 +122,8 @@ class Played(unittest.TestCase):
 
 def not_scripts():
     wrong = [
-        (("undo",),), [["undo"]], ("undo",), [("undo", 0)], [("never",)], [()], [None], [("undo",), None], [("seat", LOOP)],
+        (("undo",),), [["undo"]], ("undo",), [("undo", 0)], [("never",)], [()], [None], [("undo",), None], [("seat",
+                                                                                                             LOOP)],
         [("seat", LOOP, EAR, EAR)], [("seat", LOOP, None)], [("seat", LOOP.book(), EAR)], [("go_on", 0, "More")],
         [("go_on", True, "more")], [("go_on", -1, "more")], [("go_on", "0", "more")], [("go_on", 0, None)],
         [("go_on", "more", 0)], [("leave",)], [("leave", False)], [("exchange", 0, "s", LOOP)], [("exchange", 0, LOOP)],
@@ -187,7 +189,8 @@ class Texts(unittest.TestCase):
     def test_desks_and_words_that_are_called_like_commands(self):
         book = {"end": ("says", {"try": "start", "end": "end"}), "start": ("hears", {"start": "done"}), "done": DONE}
         desk = Desk(book, "end")
-        script = [("seat", desk, turned(desk)), ("go_on", 0, "end"), ("risk", 0, desk, "end"), ("exchange", 0, desk, "try")]
+        script = [("seat", desk, turned(desk)), ("go_on", 0, "end"), ("risk", 0, desk, "end"), ("exchange", 0, desk,
+                                                                                                "try")]
         self.assertEqual(read_script(script_text(script)), script)
 
     def test_bent_texts(self):
@@ -208,16 +211,20 @@ class Texts(unittest.TestCase):
 
     def test_wrong_texts(self):
         desk = "  start s\n  s done\n"
-        wrong = ["undo\n", "\nundo", " undo", "undo ", "undo 0", "never", "end", "try", "try\n", "try\nundo\nend", "try\nend\nend",
-                 "try\n undo\nend", "try\n   undo\nend", "try\n  undo", "try\n  undo\nEnd", "leave", "leave 01", "leave -1",
+        wrong = ["undo\n", "\nundo", " undo", "undo ", "undo 0", "never", "end", "try", "try\n", "try\nundo\nend",
+                 "try\nend\nend",
+                 "try\n undo\nend", "try\n   undo\nend", "try\n  undo", "try\n  undo\nEnd", "leave", "leave 01",
+                 "leave -1",
                  "leave +1", "leave x", "leave 1 1", "leave  1", "leave 1_0", "go_on more 0", "go_on 0", "go_on 0 More",
                  "swap 0", "turn 0\n\nturn 0", "renew 0\n" + desk, "renew 0\n" + desk + "  end",
                  "seat\n" + desk + "end", "seat\n" + desk + "end\n" + desk + "end\n" + desk + "end",
                  "renew 0\nend", "renew 0\n  start s\nend", "renew 0\n  start t\n  s done\nend",
                  "renew 0\nstart s\ns done\nend", "renew 0\n  undo\nend", "undo\nend", "undo\n  undo\nend",
-                 "exchange 0\n" + desk + "end", "exchange s 0\n" + desk + "end", "words", "states 0", "log", "still_ends 0",
+                 "exchange 0\n" + desk + "end", "exchange s 0\n" + desk + "end", "words", "states 0", "log",
+                 "still_ends 0",
                  "try 0\nend", "try\nend\n  undo\nend", "try\n  undo\nend\n  undo\nend", "leave " + "9" * 5000 + " ",
-                 "  undo", "renew 0\n  start s\n  s done\n\nend", "undo\r\nundo", "leave\t0", "renew 0\n" + desk + "end "]
+                 "  undo", "renew 0\n  start s\n  s done\n\nend", "undo\r\nundo", "leave\t0",
+                 "renew 0\n" + desk + "end "]
         others = [thing for thing in junk() if thing != ""] + [LOOP, ["undo"], ("undo",), [("undo",)], b"undo"]
         for text in wrong + others:
             with self.assertRaises(InvalidText) as caught:

@@ -50,7 +50,8 @@ def not_lots():
 
 def not_changes():
     return [thing for thing in junk() if thing != []] + [
-        ("begin", "t"), [("begin",)], [["begin", "t"]], (("begin", "t"),), [("begin", True)], {("begin", "t"): 1}, loop()]
+        ("begin", "t"), [("begin",)], [["begin", "t"]], (("begin", "t"),), [("begin", True)], {("begin", "t"): 1},
+        loop()]
 
 
 def not_arms():
@@ -89,7 +90,8 @@ def right_for(module, argument):
 def functions():
     for module, name, arguments in listed():
         # the tests of the other modules look at wrong arguments themselves
-        if module.split(".")[1] in ("viable", "partners", "stands", "orders", "stuckless", "lots", "joining", "forcing"):
+        if module.split(".")[1] in ("viable", "partners", "stands", "orders", "stuckless", "lots", "joining",
+                                    "forcing"):
             yield module, getattr(importlib.import_module(module), name), arguments
 
 
