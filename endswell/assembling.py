@@ -12,8 +12,11 @@ END = (0, "")
 
 def desk_of_rows(rows, start):
     """Return the desk whose states stand for the end and the nodes of rows that come from the start."""
-    ended = {**rows, END: ("done", {})}
-    return named_desk({node: ended[node][0] for node in ended}, {node: ended[node][1] for node in ended}, start)
+    kinds = {node: rows[node][0] for node in rows}
+    graph = {node: rows[node][1] for node in rows}
+    kinds[END] = "done"
+    graph[END] = {}
+    return named_desk(kinds, graph, start)
 
 
 def node_in(book, mark, state, end):
@@ -21,20 +24,20 @@ def node_in(book, mark, state, end):
     return end if book[state][0] == "done" else (mark, state)
 
 
-def placed(book, mark, end):
-    """Return the rows of the states of a book that are not done, those that are being another node."""
-    rows = {}
+def place(rows, book, mark, end):
+    """Put the rows of the states of a book that are not done into some rows; those that are become another node."""
     for state in book:
         kind, turns = book[state]
         if kind != "done":
             rows[(mark, state)] = (kind, {word: node_in(book, mark, goal, end) for word, goal in turns.items()})
-    return rows
 
 
 def in_turn(book, start, after, after_start):
     """Return the desk that goes like a book, and where that is done like another one."""
     later = node_in(after, 1, after_start, END)
-    rows = {**placed(book, 0, later), **placed(after, 1, END)}
+    rows = {}
+    place(rows, book, 0, later)
+    place(rows, after, 1, END)
     return desk_of_rows(rows, node_in(book, 0, start, later))
 
 
@@ -43,7 +46,7 @@ def choice_of(kind, books, starts):
     chosen = {}
     rows = {}
     for mark, word in enumerate(sorted(books)):
-        rows.update(placed(books[word], mark, END))
+        place(rows, books[word], mark, END)
         chosen[word] = node_in(books[word], mark, starts[word], END)
     first = (1, "")
     rows[first] = (kind, chosen)
@@ -54,7 +57,9 @@ def rounds_of(kind, book, start, again, enough):
     """Return the desk that goes like a book, and where that is done chooses whether it goes so again."""
     asking = (1, "")
     first = node_in(book, 0, start, asking)
-    return desk_of_rows({**placed(book, 0, asking), asking: (kind, {again: first, enough: END})}, first)
+    rows = {asking: (kind, {again: first, enough: END})}
+    place(rows, book, 0, asking)
+    return desk_of_rows(rows, first)
 
 
 def limited_of(book, start, again, enough, most):
@@ -62,7 +67,7 @@ def limited_of(book, start, again, enough, most):
     rows = {}
     for mark in range(most + 1):
         asking = (mark + 1, "")
-        rows.update(placed(book, mark, asking))
+        place(rows, book, mark, asking)
         heard = {enough: END}
         if mark < most:
             heard[again] = node_in(book, mark + 1, start, (mark + 2, ""))

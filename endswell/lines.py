@@ -176,7 +176,7 @@ def sizes_over(one, other, most):
 def most_waiting(one, other, size):
     """Return a tuple of the greatest numbers of words that wait in the first and in the second line."""
     graph, _ = over_lines(one, other, size)
-    return max([len(first) for _, _, first, _ in graph]), max([len(second) for _, _, _, second in graph])
+    return max([len(scene[2]) for scene in graph]), max([len(scene[3]) for scene in graph])
 
 
 def plain_talk(one, other, deeds):
